@@ -1,0 +1,139 @@
+"""Random houses, the same ones for the same seed."""
+
+import random
+
+from handsroom.errors import HandsError
+from handsroom.houses import House
+from handsroom.kinds import Hall
+from handsroom.routines import Routine
+from handsroom.rows import Row
+from handsroom.signatures import Signature, all_marks, needed_marks
+
+
+def random_signature(rng, hall, places):
+    """A signature with some of the marks that it can have."""
+    marks = [mark for mark in all_marks(hall, places) if rng.random() < 0.4]
+    if rng.random() < 0.5:
+        marks = [mark for mark in marks if mark[0] != "gives"]
+    marks += [need for mark in marks for need in needed_marks(hall, places, mark)]
+    return Signature(hall, *places, marks=marks)
+
+
+def random_hall(rng, locks=3, kinds=2):
+    names = ["a", "b", "c", "d"][:rng.randint(1, locks)]
+    rows = []
+    for kind in ["box", "bag", "cup"][:rng.randint(1, kinds)]:
+        rows.append((kind, rng.choice([None] + names)) + ("f", "g")[:rng.randint(1, 2)])
+    return Hall(names, *rows)
+
+
+class Writer:
+    """Writes random rows of one routine."""
+
+    def __init__(self, rng, hall, bodies, names, most):
+        self.rng = rng
+        self.hall = hall
+        self.bodies = bodies
+        self.names = names
+        self.left = most
+        self.guards = 0
+
+    def alike(self, name):
+        kind = dict(self.names)[name]
+        return [other for other, known in self.names if known == kind]
+
+    def deed(self):
+        rng = self.rng
+        words = ["take", "take", "call", "call", "skip", "make", "copy", "fetch", "read", "keep", "write", "put"]
+        word = rng.choice(words if self.names else ["take", "call", "skip"])
+        if word == "take":
+            return self.guarded(("take", rng.choice(self.hall.locks)))
+        if word == "call" and self.bodies:
+            return self.call()
+        if word in ("call", "skip"):
+            return ("skip",)
+        x = rng.choice([name for name, _ in self.names])
+        if word in ("make", "put"):
+            return (word, x)
+        if word == "copy":
+            return ("copy", x, rng.choice(self.alike(x)))
+        if word == "fetch":
+            others = self.alike(x)
+            rng.shuffle(others)
+            return ("fetch", x) + tuple(others[:rng.randint(0, len(others))])
+        return (word, x, rng.choice(self.hall.fields_of(dict(self.names)[x])))
+
+    def guarded(self, deed):
+        if self.rng.random() < 0.5:
+            return deed
+        self.guards += 1
+        return deed + ("as", f"g{self.guards}")
+
+    def call(self):
+        body, signature = self.rng.choice(self.bodies)
+        passed = []
+        for place in signature.places:
+            fitting = [name for name, kind in self.names if kind == place]
+            if not fitting:
+                return ("skip",)
+            passed.append(self.rng.choice(fitting))
+        deed = ("call", body, tuple(passed))
+        return self.guarded(deed) if signature.is_giving else deed
+
+    def rows(self, depth):
+        """Rows for one part; the guard names made directly in it may be dropped in it."""
+        found, named = [], []
+        while self.left > 0 and self.rng.random() < 0.85:
+            self.left -= 1
+            word = self.rng.choice(["do", "do", "do", "with", "either", "repeat", "block", "drop"])
+            if word == "drop":
+                if named:
+                    found.append(Row("drop", guard=self.rng.choice(named)))
+                continue
+            deeds = [self.deed() for _ in range(self.rng.randint(1, 2))]
+            if word == "do" or depth == 3:
+                found.append(Row("do", *deeds))
+                named += found[-1].guards
+                continue
+            found.append(Row(word, *deeds) if word == "with" else Row(word))
+            named += found[-1].guards
+            found += self.rows(depth + 1)
+            if word == "either" and self.rng.random() < 0.7:
+                found += [Row("or")] + self.rows(depth + 1)
+            found.append(Row("close"))
+        if depth == 0 and named and self.rng.random() < 0.3:
+            found.append(Row("give", guard=self.rng.choice(named)))
+        return found
+
+
+def random_house(seed, *, rows=6, names=3, routines=1):
+    """A random house; rows is about how many rows a routine has."""
+    rng = random.Random(seed)
+    while True:
+        hall = random_hall(rng)
+        bodies = []
+        for body in ["p", "q"][:rng.randint(0, 2)]:
+            places = [rng.choice(hall.kinds) for _ in range(rng.randint(0, 2))]
+            bodies.append((body, random_signature(rng, hall, places)))
+        written = []
+        for name in ["r", "s", "t"][:routines]:
+            pairs = [(x, rng.choice(hall.kinds)) for x in ["x", "y", "z", "w"][:rng.randint(0, names)]]
+            writer = Writer(rng, hall, bodies, pairs, rows)
+            try:
+                written.append(Routine(name, pairs, writer.rows(0)))
+            except HandsError:
+                break
+        if len(written) == routines:
+            return House(hall, bodies, written)
+
+
+def random_path(rng, spread, longest):
+    """A random lone path of a routine."""
+    from handsroom.lonetable import START, next_nodes
+    path = [START]
+    while len(path) <= longest:
+        following = next_nodes(spread, path[-1])
+        if not following:
+            break
+        path.append(rng.choice(following))
+    return path
