@@ -1,0 +1,108 @@
+"""[0.4]: both kinds of sequence, tuples as results, nothing passed is modified, the order of errors."""
+
+import copy
+import unittest
+
+from helpers import BASIC, TEXTS, WORDS
+from handsroom.answers import Setting, first_wrong, is_answer, least_signature, used_marks
+from handsroom.bareness import find_bare
+from handsroom.changing import alone, keeping, leaving_out, naming
+from handsroom.houses import House
+from handsroom.joining import first_clash, joined_run
+from handsroom.kinds import Hall
+from handsroom.lonetable import LoneTable, is_closed, lone_path, missing_nodes
+from handsroom.loneruns import Run, play
+from handsroom.records import records
+from handsroom.routines import Routine, choices_of, row_path
+from handsroom.signatures import Signature
+from handsroom.spreading import Spread
+from handsroom.tables import RoomTable
+
+
+def plain(value):
+    """A value with the objects of the package in it as their fields, to compare results."""
+    if isinstance(value, (list, tuple)):
+        return tuple(plain(one) for one in value)
+    if hasattr(value, "__dict__"):
+        return (type(value).__name__,) + tuple((name, plain(one)) for name, one in sorted(vars(value).items()))
+    return value
+
+
+def tuples_only(value):
+    """True if no list stands in a value, nor in tuples in it."""
+    return not isinstance(value, list) and (not isinstance(value, tuple) or all(tuples_only(one) for one in value))
+
+
+class GeneralTest(unittest.TestCase):
+    def calls(self):
+        """Calls with their sequences, each as a function and the arguments that are sequences."""
+        house = House.read(WORDS)
+        hall, spread = house.hall, Spread(house, "p")
+        path = list(LoneTable(spread).path_to(LoneTable(spread).nodes[-1]))
+        full = Signature.fullest(hall, "box")
+        objects, moves = [("box", True), ("free", True)], [("want", "m"), ("take",), ("back",), ("leave", None)]
+        setting = Setting(hall, objects, 0, held=["n"])
+        run = joined_run(spread, path)
+        routine = house.routine_of("p")
+        return [
+            (lambda locks: Hall(locks, ("k", None, "n")), [["a", "b"]]),
+            (lambda marks: Signature(hall, "box", marks=marks), [[("shares", 0), ("takes", "m")]]),
+            (lambda told, held: Setting(hall, told, 0, held=held), [objects, ["m"]]),
+            (lambda told: first_wrong(full, setting, told), [moves]),
+            (lambda told: is_answer(full, setting, told), [moves]),
+            (lambda told: used_marks(setting, told), [moves]),
+            (lambda places, cases: least_signature(hall, places, cases), [["box"], [(setting, moves)]]),
+            (lambda names, rows: Routine("r", names, rows), [list(routine.names), list(routine.rows)]),
+            (lambda told: row_path(routine, told), [[0, 1, 1]]),
+            (lambda told: choices_of(routine, told), [list(row_path(routine, [0, 1, 1]))]),
+            (lambda bodies, routines: House(hall, bodies, routines), [list(house.bodies), list(house.routines)]),
+            (lambda rows: house.with_rows("p", rows), [list(routine.rows)]),
+            (lambda places: keeping(house, places), [[("p", 1, 1)]]),
+            (lambda places: naming(house, places), [[("q", 2, 0), ("q", 6, 0)]]),
+            (lambda places: leaving_out(house, places), [[("q", 6, 0)]]),
+            (lambda names: alone(house, names), [["q"]]),
+            (lambda nodes: lone_path(spread, nodes), [path]),
+            (lambda nodes: missing_nodes(spread, nodes), [path]),
+            (lambda nodes: is_closed(spread, nodes), [path]),
+            (lambda nodes: list(records(spread, nodes)), [path]),
+            (lambda told, start, answers: Run(told, start, answers), [[("box", [1])], [0], [[["back"]], None]]),
+            (lambda nodes: play(spread, nodes, run), [path]),
+            (lambda nodes, group: first_clash(spread, nodes, group), [path, ["a", "b"]]),
+            (lambda nodes, group: joined_run(spread, nodes, group), [path, ["a", "b"]]),
+            (lambda nodes: RoomTable(spread).spot_of(nodes), [path]),
+        ]
+
+    def test_lists_and_tuples_do_the_same(self):
+        for call, told in self.calls():
+            first = plain(call(*told))
+            self.assertEqual(first, plain(call(*[tuple(one) for one in told])))
+            self.assertEqual(first, plain(call(*told)))
+
+    def test_nothing_that_is_passed_is_modified(self):
+        for call, told in self.calls():
+            before = plain(copy.deepcopy(told))
+            call(*told)
+            self.assertEqual(plain(told), before)
+
+    def test_results_of_several_parts_are_tuples(self):
+        for call, told in self.calls():
+            found = call(*told)
+            for part in vars(found).values() if hasattr(found, "__dict__") else [found]:
+                self.assertTrue(tuples_only(part) or isinstance(found, list), (told, part))
+
+    def test_two_runs_give_the_same(self):
+        for text in TEXTS:
+            for name in [routine.name for routine in House.read(text).routines]:
+                one, two = [Spread(House.read(text), name) for _ in range(2)]
+                self.assertEqual(LoneTable(one).nodes, LoneTable(two).nodes)
+        self.assertEqual(plain(find_bare(House.read(BASIC))), plain(find_bare(House.read(BASIC))))
+
+    def test_numbers_of_many_digits(self):
+        big = 10 ** 60 - 1
+        house = House.read("kind k - n\nroutine r x:k\ndo write x n, read x n\ndone")
+        played = play(Spread(house, "r"), [(0, ()), (1, ())], Run([("k", (-big,))], (0,), (big,)))
+        self.assertEqual((played.shown[1], played.numbers[0]), (big, ((-big,),)))
+
+
+if __name__ == "__main__":
+    unittest.main()

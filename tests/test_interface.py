@@ -1,0 +1,107 @@
+"""The interface: each name in its module, with its arguments, and each listed method in its own class."""
+
+import importlib
+import inspect
+import unittest
+
+FUNCTIONS = {
+    "words": {"is_name": "value"},
+    "answers": {
+        "first_wrong": "signature setting moves", "is_answer": "signature setting moves",
+        "used_marks": "setting moves *giving=False", "least_signature": "hall places cases *giving=False",
+        "own_stacks": "signature", "wishes": "signature", "parting": "first second"},
+    "deeds": {"is_deed": "value", "deed_text": "deed", "read_deed": "text", "guard_name": "deed", "named": "deed guard"},
+    "routines": {
+        "each_deed": "routine", "part_ends": "routine", "next_rows": "routine", "scopes": "routine", "blocks": "routine",
+        "row_path": "routine choices", "choices_of": "routine path"},
+    "changing": {
+        "keeping": "house places", "naming": "house places", "leaving_out": "house places",
+        "ending": "house name number guard", "alone": "house names"},
+    "guards": {"makers": "house name", "ended_at": "house name row"},
+    "lonetable": {
+        "locks_of": "guards", "next_nodes": "spread node", "lone_path": "spread nodes", "missing_nodes": "spread nodes",
+        "is_closed": "spread nodes"},
+    "records": {
+        "first_record": "spread", "record_after": "spread record step", "relation": "spread record x y",
+        "records": "spread path"},
+    "touches": {"touched": "spread step", "bare_names": "spread node record"},
+    "loneruns": {"play": "spread path run"},
+    "joining": {"first_clash": "spread path **groups", "joined_run": "spread path **groups"},
+    "bareness": {"touch_statuses": "table", "find_bare": "house", "is_settled": "house"},
+}
+CLASSES = {
+    "kinds": {"Hall": ("locks **descriptions", "__eq__ guard_of fields_of text")},
+    "signatures": {"Signature": ("hall **places *marks=()", (
+        "__iter__ __len__ __contains__ __eq__ __or__ __and__ __sub__ alike within text fullest read"))},
+    "answers": {"Setting": ("hall objects **passed *held=()", "")},
+    "rows": {"Row": ("word **deeds *guard=''", "__eq__ text read")},
+    "routines": {"Routine": ("name names rows", "__eq__ kind_of text")},
+    "houses": {"House": ("hall bodies routines", (
+        "__eq__ read text guard_of fields_of signature_of routine_of makes_guard with_signature with_rows __add__"))},
+    "guards": {"Maker": (None, "")},
+    "spreading": {"Point": (None, ""), "Spread": (
+        "house name", "__len__ stop_point points_of first_point maker_point drop_points")},
+    "lonetable": {"LoneTable": ("spread", (
+        "__len__ __contains__ __iter__ number_of distance_to parent_of path_to nodes_at held_sets always ever "
+        "stuck_nodes"))},
+    "records": {"Record": ("blocks own apart", "block_of key as_sure_as")},
+    "loneruns": {"Run": ("objects start answers", ""), "Played": (None, "")},
+    "tables": {"Spot": (None, ""), "RoomTable": ("spread", "__len__ __iter__ spots_at way_to spot_of MOST_SPOTS")},
+    "bareness": {"Finding": ("name way run", "")},
+}
+VALUES = {"words": ["RESERVED", "RULES"], "lonetable": ["START"]}
+
+
+def arguments(function):
+    """The arguments of a function, in the short form of the tables above."""
+    found = []
+    for name, told in inspect.signature(function).parameters.items():
+        if told.kind is inspect.Parameter.VAR_POSITIONAL:
+            name = "**" + name
+        if told.kind is inspect.Parameter.KEYWORD_ONLY:
+            name = "*" + name
+        found.append(name if told.default is inspect.Parameter.empty else f"{name}={told.default!r}")
+    return " ".join(found)
+
+
+class InterfaceTest(unittest.TestCase):
+    def test_functions(self):
+        for file, functions in FUNCTIONS.items():
+            module = importlib.import_module("handsroom." + file)
+            for name, told in functions.items():
+                function = getattr(module, name)
+                self.assertEqual(function.__module__, module.__name__, name)
+                self.assertEqual(arguments(function), told, name)
+
+    def test_classes(self):
+        for file, classes in CLASSES.items():
+            module = importlib.import_module("handsroom." + file)
+            for name, (told, methods) in classes.items():
+                found = getattr(module, name)
+                self.assertEqual(found.__module__, module.__name__, name)
+                if told is not None:
+                    self.assertEqual(arguments(found), told, name)
+                for method in methods.split():
+                    self.assertIn(method, vars(found), (name, method))
+
+    def test_kinds_of_methods(self):
+        from handsroom.houses import House
+        from handsroom.rows import Row
+        from handsroom.signatures import Signature
+        from handsroom.spreading import Spread
+        for owner, name in [(House, "read"), (Row, "read"), (Signature, "read"), (Signature, "fullest")]:
+            self.assertIsInstance(vars(owner)[name], staticmethod)
+        self.assertIsInstance(vars(Spread)["stop_point"], property)
+        self.assertEqual(arguments(Signature.fullest), "hall **places *giving=False")
+        self.assertEqual(arguments(Signature.read), "hall text")
+        from handsroom.records import Record
+        self.assertNotIn("__eq__", vars(Record))
+
+    def test_values(self):
+        for file, names in VALUES.items():
+            for name in names:
+                self.assertIsInstance(getattr(importlib.import_module("handsroom." + file), name), tuple)
+
+
+if __name__ == "__main__":
+    unittest.main()
