@@ -79,7 +79,7 @@ def can_leave(signature, stack, lock):
 
 def can_make(signature, setting, inside, move):
     """True if the body can make the move, any value, next."""
-    if inside.left or not isinstance(move, tuple) or len(move) == 0 or not isinstance(move[0], str):
+    if inside.left or not isinstance(move, tuple) or len(move) == 0:
         return False
     word, parts = move[0], move[1:]
     if word == "take":

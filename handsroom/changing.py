@@ -1,18 +1,17 @@
 """Houses that are made from a house by changes of its text ([20])."""
 
 from handsroom.deeds import guard_name, named
-from handsroom.errors import BadPart, BadPlace, NoSuch
+from handsroom.errors import BadPlace, NoSuch
 from handsroom.guards import given_guard
 from handsroom.houses import House
 from handsroom.plain import is_index
 from handsroom.routines import Routine
 from handsroom.rows import Row
-from handsroom.words import is_name
 
 
 def deed_at(house, place):
     """The deed at a place, None if the value, any value, is not the place of a deed."""
-    if not isinstance(place, tuple) or len(place) != 3 or not isinstance(place[0], str):
+    if not isinstance(place, tuple) or len(place) != 3:
         return None
     name, number, index = place
     for routine in house.routines:
@@ -109,9 +108,8 @@ def ending(house, name, number, guard):
     rows = house.routine_of(name).rows
     if not is_index(number, len(rows) + 1):
         raise BadPlace((name, number))
-    if not is_name(guard):
-        raise BadPart("form")
-    return house.with_rows(name, rows[:number] + (Row("drop", guard=guard),) + rows[number:])
+    drop = Row("drop", guard=guard)
+    return house.with_rows(name, rows[:number] + (drop,) + rows[number:])
 
 
 def alone(house, names):

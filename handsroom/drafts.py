@@ -31,7 +31,7 @@ def read_line(text):
         return ("lock", words[1])
     if words[0] == "kind":
         return ("kind", tuple([None if at == 1 and word == "-" else word for at, word in enumerate(words[1:])]))
-    if words[0] == "body" and len(words) > 2:
+    if words[0] == "body" and len(words) > 1:
         return ("body", words[1], " ".join(words[2:]))
     if words[0] == "routine" and len(words) > 1:
         return ("routine", words[1], tuple([tuple(word.split(":")) for word in words[2:]]))
@@ -120,8 +120,6 @@ class Draft:
         return first_rule((rule, many, twice, unknown))
 
     def _row_rule(self, row):
-        if not isinstance(row, Row):
-            return "form"
         if self.shape is None:
             return "place"
         rule = self.shape.rule_of(row)
@@ -154,7 +152,8 @@ class Draft:
         if deed[0] == "call":
             signature = [known for name, known in self.bodies if name == deed[1]][0]
             return tuple(kinds) == signature.places and (signature.is_giving or guard_name(deed) == "")
-        return deed[0] not in ("copy", "fetch") or all([kind == kinds[0] for kind in kinds])
+        # Of the other deeds only a copy or fetch has several names.
+        return all([kind == kinds[0] for kind in kinds])
 
     def behind(self, line):
         """The draft behind a line that breaks no rule."""

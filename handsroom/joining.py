@@ -72,9 +72,8 @@ class Origins:
         leaders = list(range(len(self.rows)))
         for name in self.at_end:
             tied = [self.at_end[other] for other in self.at_end if ties[other] == ties[name]]
-            # What is made cannot be a first object, so the others come to it.
-            makes = [origin for origin in tied if self.rows[origin][0] == "make"]
-            leaders[self.at_end[name]] = min(makes) if makes else min(tied)
+            # Without a clash what is made comes ahead of the fetches that find it.
+            leaders[self.at_end[name]] = min(tied)
         return leaders
 
 

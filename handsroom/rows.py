@@ -11,8 +11,6 @@ _BARE_WORDS = ("block", "either", "or", "repeat", "close")
 
 
 def _is_row(word, deeds, guard):
-    if not isinstance(word, str) or not isinstance(guard, str):
-        return False
     if word in _DEED_WORDS:
         return guard == "" and len(deeds) > 0 and all([is_deed(deed) for deed in deeds])
     if word in _GUARD_WORDS:

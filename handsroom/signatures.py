@@ -9,7 +9,7 @@ _MOST_PLACES = 3
 
 def is_mark(value):
     """True if the value, any value, has the form of a mark."""
-    if not isinstance(value, tuple) or len(value) not in (2, 3) or not isinstance(value[0], str):
+    if not isinstance(value, tuple) or len(value) not in (2, 3):
         return False
     word, parts = value[0], value[1:]
     if word == "shares":

@@ -194,10 +194,12 @@ class MoveTest(unittest.TestCase):
 
     def test_other_values_are_no_moves(self):
         for value in ODD_VALUES + (["want", "a"], ("want",), ("want", "a", "b"), ("want", ["a"]), ("take", "a"), "take",
-                                   ("back", None), ("leave",), ("leave", None, None), ("change", 0, "size"), ("go",),
+                                   ("go", None), ("back", None), ("leave",), ("leave", None, None), ("change", 0, "size"), ("go",),
                                    ("change", 0, "size", 1, 1), ("enter",), (THING,), (1,), ("Want", "a"), 5):
             self.assertEqual(self.wrong(WANT_A, TAKE, value), 2, value)
             self.assertEqual(self.wrong(value), 0, value)
+        for value in [("take", "a"), ("take", None), ["take"], "take", ("takes",)]:
+            self.assertEqual(self.wrong(WANT_A, value), 1, value)
         for value in ODD_VALUES:
             if value is not None:
                 self.assertEqual(self.wrong(("leave", value)), 0)

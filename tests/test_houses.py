@@ -58,6 +58,9 @@ class HouseTest(unittest.TestCase):
         self.assertFalse(self.house == House.read(BASIC.replace("+b =a =b", "+b =a")))
         self.assertFalse(self.house == House.read(BASIC.replace("left right", "left")
                                                   .replace("z right", "z left")))
+        one = House.read("kind k - n\nroutine r\ndone")
+        for other in ["kind k - m\nroutine r\ndone", "lock a\nkind k - n\nroutine r\ndone"]:
+            self.assertFalse(one == House.read(other))
         for value in ODD_VALUES + (BASIC,):
             self.assertFalse(self.house == value)
 
@@ -141,6 +144,11 @@ class LineTest(unittest.TestCase):
             self.assertEqual(fault(*good[:at], line, *good[at:]), (at + 1, "place"), (at, line))
         self.assertEqual(row_fault("do take a as g", "give g", "do skip"), (3, "place"))
         self.assertEqual(row_fault("do take a as g", "block", "give g"), (3, "place"))
+        short = ["kind k - f", "routine r", "done"]
+        for line in ["lock a", "kind l - f", "body b :", "do skip", "done"]:
+            self.assertEqual(fault(*short, line), (4, "place"))
+        for line in ["body b k** :", "body b k : +A", "body take :", "kind l", "lock A", "routine r x:A"]:
+            self.assertEqual(fault(*short[:2], line), (3, "form"))
 
     def test_many(self):
         locks, kinds = ["lock a", "lock b", "lock c", "lock d"], ["kind k - f", "kind l a f", "kind m d f g"]
@@ -294,6 +302,8 @@ class ChangedHouseTest(unittest.TestCase):
         for other in ["lock z\nkind k z n\nbody b : +z\nroutine s\ndone", "lock a\nkind k - n\nbody b : +a\nroutine s\ndone",
                       "lock a\nkind k a n\nbody b :\nroutine s\ndone", "lock a\nkind k a n\nbody b :\nroutine r\ndone"]:
             self.assertEqual(error_of(lambda: one + House.read(other)), ("Unlike",))
+        for text in ["lock a\nkind k a m", "lock b\nkind k b n", "lock a\nkind k a n\nkind m - n"]:
+            self.assertEqual(error_of(lambda: one + House.read(text + "\nroutine s\ndone")), ("Unlike",))
         self.assertEqual(error_of(lambda: one + one), ("BadLine", 6, "twice"))
         other = House.read("lock a\nkind k a n\nbody r :\nroutine s\ndone")
         self.assertEqual(error_of(lambda: one + other), ("BadLine", 5, "twice"))

@@ -131,6 +131,9 @@ class JoinedTest(unittest.TestCase):
         played = self.check(one, path, [("x", "y")])
         self.assertEqual(played.leads[-1][0], played.leads[-1][1])
         self.check(one, path, [("x", "z")])
+        one_more = spread("do make x, make y, put y, fetch z, write z f")
+        self.assertIsNotNone(self.check(one_more, to_the_end(one_more), [("y", "z")]))
+        self.assertIsNone(self.check(one_more, to_the_end(one_more), [("x", "z")]))
         self.assertIsNone(self.check(one, path, [("y", "z")]))
         self.assertIsNone(self.check(one, path, [("x", "u")]))
 
@@ -146,6 +149,8 @@ class JoinedTest(unittest.TestCase):
                      "close", "do put x, call wide")
         played = self.check(one, to_the_end(one), [("y", "z")])
         self.assertIsNotNone(played)
+        self.assertIsNotNone(self.check(one, to_the_end(one)))
+        one = spread("do make u, call wide, call fill x, put u, call wide")
         self.assertIsNotNone(self.check(one, to_the_end(one)))
 
     def test_a_kind_without_names_has_a_first_object(self):

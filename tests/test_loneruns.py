@@ -141,7 +141,7 @@ class PlayTest(unittest.TestCase):
             check(OBJECTS + ((kind, (1,)),))
         for numbers in [(1,), (), (1, 2, 3), (1, None), (True, 1), (1, "2"), (2.0, 1), [1, True]]:
             check(OBJECTS + (("box", numbers),))
-        for value in ODD_VALUES + (("box",), ("box", (1, 2), 3), 4):
+        for value in ODD_VALUES + (("box",), ("box", (1, 2), 3), 4, ["box", (1, 2)], [("box", (1, 2))]):
             check(OBJECTS + (value,))
         check(OBJECTS[:1] + OBJECTS[2:], (0, 1, 0))
         check((("bag", (1,)),), (0, 0, 0))
@@ -150,6 +150,11 @@ class PlayTest(unittest.TestCase):
             check(start=start)
         for value in NO_NUMBERS:
             check(start=(0, value, 1))
+
+    def test_each_kind_of_the_house_has_a_first_object(self):
+        one = Spread(House.read("kind k - n\nkind m - n\nroutine r x:k\ndone"), "r")
+        self.assertEqual(error_of(play, one, [(0, ())], Run([("k", (1,))], (0,), ())), ("BadRun", -1))
+        self.assertEqual(play(one, [(0, ())], Run([("k", (1,)), ("m", (2,))], (0,), ())).leads, ((0,),))
 
     def test_bad_answers(self):
         rows = ["do fetch x y, write x f, skip, call share x, read x f, make y, fetch y, take b, call fill x"]

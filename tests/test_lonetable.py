@@ -15,6 +15,11 @@ from handsroom.spreading import Spread
 HEAD = "lock a\nlock b\nlock c\nkind k - n\nbody lend : +a +b =a =b\n"
 
 
+# Values that have not the form of a node, also where they are equal to one or cannot be a key.
+NO_NODES = [None, 5, "ab", (), (0,), (0, (), ()), [0, ()], (0, []), (0, None), ("0", ()), (0, (5,)), (0, (("g",),)),
+            (0, (["g", "a"],)), (0, (("g", ["a"]),)), (0, (("g", None),)), (0, ((1, "a"),)), (0, ("ga",))]
+
+
 def spread(*rows):
     return Spread(House.read(HEAD + "\n".join(["routine r", *rows, "done"])), "r")
 
@@ -45,6 +50,9 @@ class NodeTest(unittest.TestCase):
         self.assertEqual(next_nodes(one, (5, guards)), ())
         for value in (-1, 6, 10 ** 40) + NO_NUMBERS:
             self.assertEqual(error_of(next_nodes, one, (value, ())), ("NoNode", (value, ())))
+        for node in NO_NODES:
+            self.assertEqual(error_of(next_nodes, one, node), ("NoNode", node))
+            self.assertEqual(error_of(lone_path, one, [node]), ("BadPath", 0))
 
     def test_lone_path(self):
         one = spread("do take a", "repeat", "do skip", "close")
@@ -90,8 +98,9 @@ class TableTest(unittest.TestCase):
         self.assertEqual(table.nodes[6], (3, (g, ha)))
         self.assertEqual((list(table), len(table)), (list(table.nodes), len(table.nodes)))
         self.assertIn((2, (g,)), table)
-        for node in [(2, ()), (99, ()), (False, ()), (0, [])]:
+        for node in [(2, ()), (99, ()), (False, ())] + NO_NODES:
             self.assertNotIn(node, table)
+            self.assertEqual(error_of(table.number_of, node), ("NoNode", node))
         self.assertEqual([table.distance_to(node) for node in table.nodes[:7]], [0, 1, 1, 2, 2, 2, 3])
         self.assertIsNone(table.parent_of(START))
         self.assertEqual(table.parent_of((3, (g, ha))), (2, (g,)))

@@ -89,7 +89,7 @@ class PartTest(unittest.TestCase):
             self.assert_rule("form", marks=[("shares", value)] if value != 3 else [("shares", "3")])
         for mark in [("takes",), ("takes", "a", "b"), ("under", "a"), ("under", "a", "a"), ("under", "a", "b", "c"),
                      ("writes", "box"), ("writes", "box", "n", "n"), ("gives",), ("gives", "a", "b"), ("shares",),
-                     ("shares", 0, 0), ("shares", "a"), ("owns", "a"), ["takes", "a"], ("take", "a")]:
+                     ("shares", 0, 0), ("shares", "a"), ("owns", "a"), ("owns", "a", "b"), ["takes", "a"], ("take", "a")]:
             self.assert_rule("form", "box", marks=[mark])
 
     def test_many_unknown_needs(self):
@@ -109,6 +109,13 @@ class PartTest(unittest.TestCase):
         self.assert_rule("form", "cup", "cup", "cup", "cup", marks=[("takes", "C")])
         self.assert_rule("many", "cup", "cup", "cup", "cup", marks=[("under", "a", "b")])
         self.assert_rule("unknown", marks=[("under", "a", "b"), ("takes", "c")])
+
+
+    def test_a_field_may_have_the_name_of_its_kind(self):
+        hall = Hall(["k"], ("box", "k", "box", "k"))
+        signature = Signature(hall, marks=[("writes", "box", "box"), ("takes", "k"), ("writes", "box", "k")])
+        self.assertEqual(signature.text(), ": +k box.box box.k")
+        self.assertEqual(Signature.read(hall, signature.text()), signature)
 
 
 class LatticeTest(unittest.TestCase):
