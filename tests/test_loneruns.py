@@ -139,7 +139,8 @@ class PlayTest(unittest.TestCase):
         check(answers=(0, None))
         for kind in ODD_VALUES + ("cup", "a", 0):
             check(OBJECTS + ((kind, (1,)),))
-        for numbers in [(1,), (), (1, 2, 3), (1, None), (True, 1), (1, "2"), (2.0, 1), [1, True]]:
+        for numbers in [(1,), (), (1, 2, 3), (1, None), (True, 1), (1, "2"), (2.0, 1), [1, True], None, 7, "12",
+                        {1: 1, 2: 2}]:
             check(OBJECTS + (("box", numbers),))
         for value in ODD_VALUES + (("box",), ("box", (1, 2), 3), 4, ["box", (1, 2)], [("box", (1, 2))]):
             check(OBJECTS + (value,))
