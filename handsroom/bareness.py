@@ -2,7 +2,7 @@
 
 from handsroom.joining import joined_run
 from handsroom.spreading import Spread
-from handsroom.tables import RoomTable
+from handsroom.tables import RoomTable, least_spot
 from handsroom.touches import bare_names, touched
 
 
@@ -39,14 +39,11 @@ class Finding:
 def find_bare(house):
     """The Finding of a bare spot of the least depth, None if there is no bare spot."""
     tables = [RoomTable(Spread(house, routine.name)) for routine in house.routines]
-    found = []
-    for at, table in enumerate(tables):
-        spots = [spot for spot in table.spots if _is_bare(table.spread, spot)]
-        found.extend([(spot.depth, at, spot.number) for spot in spots])
-    if len(found) == 0:
+    found = least_spot([[spot for spot in table.spots if _is_bare(table.spread, spot)] for table in tables])
+    if found is None:
         return None
-    _, at, number = min(found)
-    way = tables[at].way_to(number)
+    at, spot = found
+    way = tables[at].way_to(spot.number)
     spread = tables[at].spread
     return Finding(spread.name, way, joined_run(spread, way))
 

@@ -132,16 +132,15 @@ def _call_moves(scene, node, lock, fresh):
     return tuple(moves + ([] if lock is None else [("want", lock), ("take",)]))
 
 
-def joined_run(spread, path, *groups):
-    """A joined run of a lone path for groups of names, None if there is a clash."""
-    nodes = lone_path(spread, path)
-    _check_groups(spread, groups)
-    record = _last_record(spread, nodes)
-    ties = _ties(spread, record, groups)
-    if _clash_in(spread, record, ties) is not None:
-        return None
+def tied_run(spread, nodes, position, groups):
+    """A run of a lone path in which just the names tied at the node of a position lead to one object there.
+
+    It has the two more properties of joined runs. The groups have no clash at this node.
+    """
+    reached = nodes[:position + 1]
+    leaders = Origins(spread, reached).leaders(_ties(spread, _last_record(spread, reached), groups))
     origins = Origins(spread, nodes)
-    leaders = origins.leaders(ties)
+    leaders = leaders + list(range(len(leaders), len(origins.rows)))
     kinds, numbers = _first_kinds(spread, origins, leaders)
     fresh = Fresh()
     objects = [(kind, tuple([fresh.one() for _ in spread.house.fields_of(kind)])) for kind in kinds]
@@ -160,3 +159,13 @@ def joined_run(spread, path, *groups):
         scene.do_step(step, answer)
         answers.append(answer)
     return Run(objects, start, answers)
+
+
+def joined_run(spread, path, *groups):
+    """A joined run of a lone path for groups of names, None if there is a clash."""
+    nodes = lone_path(spread, path)
+    _check_groups(spread, groups)
+    record = _last_record(spread, nodes)
+    if _clash_in(spread, record, _ties(spread, record, groups)) is not None:
+        return None
+    return tied_run(spread, nodes, len(nodes) - 1, groups)

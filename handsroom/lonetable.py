@@ -15,7 +15,8 @@ def _is_guard(value):
     return isinstance(value, tuple) and len(value) == 2 and isinstance(value[0], str) and isinstance(value[1], str)
 
 
-def _is_node(value):
+def is_node(value):
+    """True if the value, any value, has the form of a node."""
     if not isinstance(value, tuple) or len(value) != 2 or not is_integer(value[0]):
         return False
     return isinstance(value[1], tuple) and all([_is_guard(guard) for guard in value[1]])
@@ -30,7 +31,7 @@ def _made_locks(spread, step):
 
 def next_nodes(spread, node):
     """The next nodes of a node, in order."""
-    if not _is_node(node) or not is_index(node[0], len(spread.points)):
+    if not is_node(node) or not is_index(node[0], len(spread.points)):
         raise NoNode(node)
     number, guards = node
     point = spread.points[number]
@@ -47,7 +48,7 @@ def lone_path(spread, nodes):
     """The nodes as a tuple, if they are a lone path."""
     possible = (START,)
     for position, node in enumerate(nodes):
-        if not _is_node(node) or node not in possible:
+        if not is_node(node) or node not in possible:
             raise BadPath(position)
         possible = next_nodes(spread, node)
     if len(nodes) == 0:
@@ -106,7 +107,7 @@ class LoneTable:
         return iter(self.nodes)
 
     def __contains__(self, node):
-        return _is_node(node) and node in self._numbers
+        return is_node(node) and node in self._numbers
 
     def number_of(self, node):
         """The number of a node."""

@@ -85,3 +85,15 @@ class RoomTable:
         for node in lone_path(self.spread, path)[1:]:
             number = [at for at in self.spots[number].nexts if self.spots[at].node == node][0]
         return number
+
+
+def least_spot(chosen):
+    """The pair (index, spot) of a spot of the least depth among lists of spots, one list for each table.
+
+    Of several it is the one of the earliest table, then the one with the least number; None if there are none.
+    """
+    found = [(spot.depth, at, spot.number) for at, spots in enumerate(chosen) for spot in spots]
+    if len(found) == 0:
+        return None
+    _, at, number = min(found)
+    return at, [spot for spot in chosen[at] if spot.number == number][0]
