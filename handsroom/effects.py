@@ -38,7 +38,7 @@ class Effect:
         rows, changed = before.heap_now.object_rows, after.heap_now.object_rows
         self.is_start = self.move[0] == "start"
         self.named = _named(step, self.move)
-        self.made = tuple(range(len(rows), len(changed)))
+        self.new_objects = tuple(range(len(rows), len(changed)))
         self.shared = tuple([at for at, row in enumerate(rows) if row[2] is not None and changed[at][2] is None])
         self.given_back = tuple([lock for lock in held if lock not in later])
         self.taken = tuple([lock for lock in later if lock not in held])

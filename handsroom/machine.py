@@ -14,8 +14,8 @@ class Machine:
 
     def __init__(self, house, firsts):
         self.house = house
-        self._firsts = tuple(firsts)
-        self._heap = Heap.begun(house, self._firsts)
+        self._heap = Heap.begun(house, firsts)
+        self._firsts = tuple([row[:2] for row in self._heap.object_rows])
         self._hands = ()
         self._turns = ()
         self._shows = ()

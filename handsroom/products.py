@@ -57,7 +57,7 @@ class Product:
         self.states = tuple(list(self._steps))
 
     def _find_states(self):
-        """Finds all states, those of one distance together: steps of length 0 stay in one level."""
+        """Finds all states by ascending distance: a step of length 0 leads into the level of its own state."""
         level = [_FIRST]
         while len(level) > 0:
             later = []
@@ -68,13 +68,16 @@ class Product:
                 for _, length, reached in self._steps[state]:
                     if length > 0:
                         later.append((state, reached))
-                    elif self._is_new(state, reached, 0):
+                    elif self._finds(state, reached, 0):
                         level.append(reached)
                 at += 1
-            level = [reached for state, reached in later if self._is_new(state, reached, 1)]
+            level = []
+            for state, reached in later:
+                if self._finds(state, reached, 1):
+                    level.append(reached)
 
-    def _is_new(self, state, reached, length):
-        """Notes a state to which a step leads, True if it was not found before."""
+    def _finds(self, state, reached, length):
+        """Notes a state to which a step of some length leads, True if it was not found before."""
         if reached in self._distances:
             return False
         if len(self._distances) >= self.MOST_STATES:
@@ -151,7 +154,7 @@ class Product:
     def is_open(self, state):
         """True if the keeper stands at a demand that shows a number that was struck."""
         (node, names), _, _, mark = state
-        if mark != "struck" or self._sides[0].stands_at_stop(node):
+        if mark != "struck":
             return False
         step = self._sides[0].step_at(node)
         return is_demand(step) and step[1] in names and step[2] == self.field

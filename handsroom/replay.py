@@ -78,7 +78,7 @@ def finish(machine):
         hand, move = turn
         trial.turn(hand, move)
         turn = _next_turn(trial)
-    hands = range(len(trial))
-    if not all([trial.hand_at(hand).over for hand in hands]):
-        raise Unfinished(trial.ring(), tuple([hand for hand in hands if _is_short(trial, hand)]))
+    if not all([trial.hand_at(hand).over for hand in range(len(trial))]):
+        short = [hand for hand in range(len(trial)) if _is_short(trial, hand)]
+        raise Unfinished(trial.ring(), tuple(short))
     return trial.turns_made[len(machine.turns_made):]

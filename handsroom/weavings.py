@@ -37,9 +37,9 @@ def leave_out(house, firsts, weaving, hands):
             raise NoHand(hand)
     effects = _effects(house, given, machine.turns_made)
     staying = [effect for effect in effects if effect.hand not in hands]
-    gone = [number for effect in effects if effect.hand in hands for number in effect.made]
+    gone = [number for effect in effects if effect.hand in hands for number in effect.new_objects]
     needed = [number for number in gone if any([number in effect.named for effect in staying])]
-    made = [number for effect in staying for number in effect.made]
+    made = [number for effect in staying for number in effect.new_objects]
     numbers = {number: at for at, number in enumerate(list(range(len(given))) + needed + made)}
     places = [hand for hand in range(len(machine)) if hand not in hands]
     turns = [(places.index(effect.hand), _renamed(effect, numbers)) for effect in staying]
@@ -52,7 +52,7 @@ def _reason(first, second):
     """Why two turns of different hands are in conflict, None if they are not."""
     if first.is_start and second.is_start:
         return "start"
-    if len(first.made) > 0 and len(second.made) > 0:
+    if len(first.new_objects) > 0 and len(second.new_objects) > 0:
         return "make"
     if any([lock in first.given_back for lock in second.taken]):
         return "lock"

@@ -6,13 +6,20 @@ from handsroom.answers import Setting, first_wrong, own_stacks, parting
 from handsroom.bareness import find_bare, touch_statuses
 from handsroom.changing import naming
 from handsroom.guards import ended_at
+from handsroom.errors import NoLockOrder
 from handsroom.houses import House
+from handsroom.judging import HeldTable, demand_statuses, find_stale
 from handsroom.kinds import Hall
 from handsroom.loneruns import Run, play
+from handsroom.orders import lock_order
+from handsroom.requests import Requests
 from handsroom.routines import blocks, next_rows, row_path, scopes
 from handsroom.signatures import Signature
+from handsroom.spared import kept, spared
 from handsroom.spreading import Spread
+from handsroom.standard import standard_moves
 from handsroom.tables import RoomTable
+from handsroom.twohands import find_stale_woven, spared_for_all
 
 
 class ExampleTest(unittest.TestCase):
@@ -69,6 +76,36 @@ class ExampleTest(unittest.TestCase):
                            "do read a size\ndone")
         self.assertEqual((len(find_bare(house).way), touch_statuses(RoomTable(Spread(house, "r")))),
                          (4, (None, 'safe', None, 'bare', None)))
+
+    def test_judging(self):
+        house = House.read("lock m\nkind box m size\nbody tidy : +m box.size\nroutine r a:box\ndo read a size\n"
+                           "with take m\ndo call tidy, keep a size\nclose\ndo call tidy, keep a size\ndone")
+        self.assertEqual((demand_statuses(HeldTable(Spread(house, "r"))), len(find_stale(house).way)),
+                         (('needed', None, None, 'spared', None, None, 'needed', None), 7))
+
+    def test_spared(self):
+        house = House.read("kind box - size\nroutine r a:box\ndo read a size, read a size\ndone")
+        self.assertEqual((spared(house), kept(house).text()),
+                         ((('r', 0, 1),), 'kind box - size\nroutine r a:box\ndo read a size, keep a size\ndone'))
+
+    def test_standard(self):
+        house = House.read("lock a\nkind k a f\nbody b : +a =a\nroutine r x:k\ndo call b as g\ndo fetch x x\ndone")
+        self.assertEqual(
+            standard_moves(house, "r", [(0, ()), (1, (("g", "a"),)), (2, (("g", "a"),))]),
+            (('start', 'r', (0,)), ('enter',), ('want', 'a'), ('take',), ('leave', 'a', 1), ('go', 1, 2)))
+
+    def test_orders(self):
+        with self.assertRaises(NoLockOrder) as caught:
+            lock_order(Requests(("a", "b", "g"), [(("a", "g"), "b", 2), (("b", "g"), "a", 2)]))
+        self.assertEqual(caught.exception.cycle, ('a', 'b'))
+
+    def test_twohands(self):
+        text = "kind k - n\nroutine a x:k\ndo read x n, read x n\ndo keep x n\ndone"
+        alone = House.read(text)
+        found = find_stale_woven(House.read(text + "\nroutine b y:k\ndo write y n\ndone"))
+        self.assertEqual(
+            [find_stale_woven(alone), spared_for_all(alone), found.routine, found.point, found.hands, found.length],
+            [None, (('a', 0, 1),), 'a', 2, 2, 3])
 
 
 if __name__ == "__main__":

@@ -28,6 +28,29 @@ FUNCTIONS = {
     "loneruns": {"play": "spread path run"},
     "joining": {"first_clash": "spread path **groups", "joined_run": "spread path **groups"},
     "bareness": {"touch_statuses": "table", "find_bare": "house", "is_settled": "house"},
+    "marks": {
+        "first_marked": "spread", "marked_after": "spread held record step", "lost": "spread record sorts"},
+    "runs": {"marked_records": "spread path", "stale_run": "spread path name field"},
+    "judging": {"demand_statuses": "table", "find_stale": "house"},
+    "spared": {"spared": "house", "kept": "house"},
+    "replay": {
+        "length_of": "weaving", "replay": "house firsts weaving", "default_move": "machine hand", "finish": "machine"},
+    "standard": {
+        "standard_firsts": "house", "moves_along": "house routine nodes objects answers",
+        "standard_moves": "house routine nodes *stack=None *wanted=None"},
+    "nesting": {"first_breach": "table", "crossings": "table", "nests": "house name", "house_nests": "house"},
+    "ends": {"life": "table tag", "endings": "spread nodes"},
+    "weavings": {"leave_out": "house firsts weaving hands", "conflict_of": "machine first second"},
+    "requests": {"proper_requests": "requests", "self_requests": "requests"},
+    "cycles": {
+        "request_cycles": "requests *hands", "total_length": "requests cycle", "least_cycle": "requests",
+        "least_cycle_within": "requests locks"},
+    "chains": {"chains_of": "requests", "closes": "chain"},
+    "orders": {"lock_pairs": "requests", "shortest_lock_cycle": "locks pairs", "lock_order": "requests"},
+    "shown": {"weaving_along": "product way"},
+    "twohands": {
+        "open_points": "house name", "open_places": "house", "find_opening": "house name point",
+        "find_stale_woven": "house", "spared_for_all": "house", "kept_for_all": "house"},
 }
 CLASSES = {
     "kinds": {"Hall": ("locks **descriptions", "__eq__ guard_of fields_of text")},
@@ -48,6 +71,17 @@ CLASSES = {
     "loneruns": {"Run": ("objects start answers", ""), "Played": (None, "")},
     "tables": {"Spot": (None, ""), "RoomTable": ("spread", "__len__ __iter__ spots_at way_to spot_of MOST_SPOTS")},
     "bareness": {"Finding": ("name way run", "")},
+    "marks": {"Marked": ("blocks own apart known", "__init__ knows key as_sure_as")},
+    "judging": {"HeldTable": ("spread", "__init__ is_known")},
+    "heap": {"Heap": (None, "begun object_rows __len__ shared_of")},
+    "hands": {"Hand": (None, "leads_to sheet_of")},
+    "machine": {"Machine": ("house firsts", (
+        "__len__ heap_now turns_made shows_made faults_made turn attempt hand_at step_at nexts_at wants waits_for "
+        "holder ring duplicate"))},
+    "requests": {"Requests": ("locks rows", "__iter__ __len__ __contains__ __getitem__ __or__ kept_to")},
+    "products": {"Product": ("house keeper other kind field", (
+        "MOST_STATES __iter__ __len__ __contains__ steps_at distance_to way_to is_open open_states"))},
+    "twohands": {"Opening": (None, "")},
 }
 VALUES = {"words": ["RESERVED", "RULES"], "lonetable": ["START"]}
 
@@ -96,6 +130,31 @@ class InterfaceTest(unittest.TestCase):
         self.assertEqual(arguments(Signature.read), "hall text")
         from handsroom.records import Record
         self.assertNotIn("__eq__", vars(Record))
+
+    def test_kinds_of_members_of_machines(self):
+        from handsroom.heap import Heap
+        from handsroom.judging import HeldTable
+        from handsroom.machine import Machine
+        from handsroom.marks import Marked
+        from handsroom.products import Product
+        from handsroom.records import Record
+        from handsroom.tables import RoomTable
+        self.assertEqual((Marked.__bases__, HeldTable.__bases__), ((Record,), (RoomTable,)))
+        self.assertIsInstance(vars(Heap)["begun"], classmethod)
+        self.assertEqual(arguments(Heap.begun), "house firsts")
+        for owner, names in [(Heap, ["object_rows"]), (Machine, ["heap_now", "turns_made", "shows_made", "faults_made"])]:
+            for name in names:
+                self.assertIsInstance(vars(owner)[name], property)
+        for owner, told in [(Machine.turn, "self hand move"), (Machine.attempt, "self turns"),
+                            (Product.steps_at, "self state"), (Marked.knows, "self name field")]:
+            self.assertEqual(arguments(owner), told)
+        self.assertEqual((Product.MOST_STATES, HeldTable.MOST_SPOTS), (4000, 600))
+
+    def test_generators(self):
+        from handsroom.cycles import request_cycles
+        from handsroom.runs import marked_records
+        for function in (request_cycles, marked_records):
+            self.assertTrue(inspect.isgeneratorfunction(function))
 
     def test_values(self):
         for file, names in VALUES.items():

@@ -88,6 +88,8 @@ def targets(function):
     for node in ast.walk(function):
         if isinstance(node, ast.Name) and isinstance(node.ctx, ast.Store):
             found.append(node.id)
+        if isinstance(node, ast.ExceptHandler) and node.name:
+            found.append(node.name)
     return found
 
 
@@ -304,7 +306,7 @@ class ClassTest(unittest.TestCase):
                 self.assertEqual(last.value.func.id, "len")
             if function.name == "__iter__":
                 self.assertEqual(len(function.body), 1)
-                self.assertRegex(ast.unparse(last), r"\Areturn iter\(self\.[a-z]+\)\Z")
+                self.assertRegex(ast.unparse(last), r"\Areturn iter\(self\.[a-z_]+\)\Z")
             if function.name == "__init__":
                 self.assertFalse([node for node in ast.walk(function) if isinstance(node, ast.Return)])
 
@@ -371,7 +373,7 @@ class StatementTest(unittest.TestCase):
     def test_one_use_of_a_generator(self):
         generators = [function.name for _, _, function in functions()
                       if any(isinstance(node, (ast.Yield, ast.YieldFrom)) for node in ast.walk(function))]
-        self.assertEqual(sorted(generators), ["each_deed", "records"])
+        self.assertEqual(sorted(generators), ["each_deed", "marked_records", "records", "request_cycles"])
         for name, tree in trees().items():
             for node in ast.walk(tree):
                 for child in ast.iter_child_nodes(node):
