@@ -27,10 +27,17 @@ def random_hall(rng, locks=3, kinds=2):
     return Hall(names, *rows)
 
 
+WORDS = ("take", "take", "call", "call", "skip", "make", "copy", "fetch", "read", "keep", "write", "put")
+BUSY_WORDS = ("take", "call", "call", "make", "copy", "fetch", "read", "read", "keep", "keep", "write", "write", "write",
+              "put")
+GUARD_WORDS = ("take", "take", "take", "take", "call", "call", "skip")
+
+
 class Writer:
     """Writes random rows of one routine."""
 
-    def __init__(self, rng, hall, bodies, names, most):
+    def __init__(self, rng, hall, bodies, names, most, words=WORDS):
+        self.words = words
         self.rng = rng
         self.hall = hall
         self.bodies = bodies
@@ -44,8 +51,7 @@ class Writer:
 
     def deed(self):
         rng = self.rng
-        words = ["take", "take", "call", "call", "skip", "make", "copy", "fetch", "read", "keep", "write", "put"]
-        word = rng.choice(words if self.names else ["take", "call", "skip"])
+        word = rng.choice(self.words if self.names else ["take", "call", "skip"])
         if word == "take":
             return self.guarded(("take", rng.choice(self.hall.locks)))
         if word == "call" and self.bodies:
@@ -106,8 +112,8 @@ class Writer:
         return found
 
 
-def random_house(seed, *, rows=6, names=3, routines=1):
-    """A random house; rows is about how many rows a routine has."""
+def random_house(seed, *, rows=6, names=3, routines=1, words=WORDS):
+    """A random house; rows is about how many rows a routine has, words those of its deeds."""
     rng = random.Random(seed)
     while True:
         hall = random_hall(rng)
@@ -118,9 +124,34 @@ def random_house(seed, *, rows=6, names=3, routines=1):
         written = []
         for name in ["r", "s", "t"][:routines]:
             pairs = [(x, rng.choice(hall.kinds)) for x in ["x", "y", "z", "w"][:rng.randint(0, names)]]
-            writer = Writer(rng, hall, bodies, pairs, rows)
+            writer = Writer(rng, hall, bodies, pairs, rows, words)
             try:
                 written.append(Routine(name, pairs, writer.rows(0)))
+            except HandsError:
+                break
+        if len(written) == routines:
+            return House(hall, bodies, written)
+
+
+def busy_house(seed, *, rows=4, names=2, routines=2):
+    """A random house of few sorts in which many hands read, keep and write the same numbers."""
+    rng = random.Random(seed)
+    while True:
+        locks = ["a", "b"][:rng.randint(1, 2)]
+        kinds = [("box", rng.choice([None, "a", "a"])) + ("f", "g")[:rng.choice((1, 1, 2))]]
+        if rng.random() < 0.2:
+            kinds.append(("bag", None, "f"))
+        hall = Hall(locks, *kinds)
+        bodies = []
+        for body in ["p", "q"][:rng.randint(0, 2)]:
+            places = ["box"] * rng.randint(0, 1)
+            bodies.append((body, random_signature(rng, hall, places)))
+        written = []
+        for name in ["r", "s", "t"][:routines]:
+            pairs = [(x, rng.choice([hall.kinds[0], hall.kinds[0], hall.kinds[-1]]))
+                     for x in ["x", "y", "z"][:rng.randint(1, names)]]
+            try:
+                written.append(Routine(name, pairs, Writer(rng, hall, bodies, pairs, rows, BUSY_WORDS).rows(0)))
             except HandsError:
                 break
         if len(written) == routines:
