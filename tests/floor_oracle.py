@@ -254,12 +254,15 @@ class Mover:
         self.rng = rng
         self.floor = floor
 
+    def one_of(self, objects):
+        return self.rng.choice(objects)
+
     def start(self):
         routine = self.rng.choice(self.floor.house.routines)
         objects = []
         for _, kind in routine.names:
             fitting = [at for at in range(len(self.floor.objects)) if self.floor.is_shared(at, kind)]
-            objects.append(self.rng.choice(fitting))
+            objects.append(self.one_of(fitting))
         return ("start", routine.name, self.rng.choice((tuple, list))(objects))
 
     def go(self, hand):
@@ -267,7 +270,7 @@ class Mover:
         answer = rng.randint(-9, 9) if step[0] == "write" else None
         if step[0] == "fetch":
             fitting = [at for at in range(len(self.floor.objects)) if self.floor.answers(hand, at)]
-            answer = rng.choice(fitting) if fitting else 0
+            answer = self.one_of(fitting) if fitting else 0
         return ("go", answer, rng.choice(nexts) if nexts else None)
 
     def inside(self, hand):

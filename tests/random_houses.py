@@ -30,6 +30,7 @@ def random_hall(rng, locks=3, kinds=2):
 WORDS = ("take", "take", "call", "call", "skip", "make", "copy", "fetch", "read", "keep", "write", "put")
 BUSY_WORDS = ("take", "call", "call", "make", "copy", "fetch", "read", "read", "keep", "keep", "write", "write", "write",
               "put")
+SHARE_WORDS = ("make", "make", "put", "put", "fetch", "fetch", "copy", "call", "read", "keep", "write", "take")
 GUARD_WORDS = ("take", "take", "take", "take", "call", "call", "skip")
 
 
@@ -133,7 +134,7 @@ def random_house(seed, *, rows=6, names=3, routines=1, words=WORDS):
             return House(hall, bodies, written)
 
 
-def busy_house(seed, *, rows=4, names=2, routines=2):
+def busy_house(seed, *, rows=4, names=2, routines=2, words=BUSY_WORDS):
     """A random house of few sorts in which many hands read, keep and write the same numbers."""
     rng = random.Random(seed)
     while True:
@@ -151,7 +152,7 @@ def busy_house(seed, *, rows=4, names=2, routines=2):
             pairs = [(x, rng.choice([hall.kinds[0], hall.kinds[0], hall.kinds[-1]]))
                      for x in ["x", "y", "z"][:rng.randint(1, names)]]
             try:
-                written.append(Routine(name, pairs, Writer(rng, hall, bodies, pairs, rows, BUSY_WORDS).rows(0)))
+                written.append(Routine(name, pairs, Writer(rng, hall, bodies, pairs, rows, words).rows(0)))
             except HandsError:
                 break
         if len(written) == routines:

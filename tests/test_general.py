@@ -4,19 +4,35 @@ import copy
 import unittest
 
 from helpers import BASIC, TEXTS, WORDS
+from test_machine import state_of
 from handsroom.answers import Setting, first_wrong, is_answer, least_signature, used_marks
 from handsroom.bareness import find_bare
 from handsroom.changing import alone, keeping, leaving_out, naming
+from handsroom.cycles import least_cycle, least_cycle_within, total_length
+from handsroom.ends import endings
+from handsroom.heap import Heap
 from handsroom.houses import House
 from handsroom.joining import first_clash, joined_run
+from handsroom.judging import HeldTable
 from handsroom.kinds import Hall
 from handsroom.lonetable import LoneTable, is_closed, lone_path, missing_nodes
 from handsroom.loneruns import Run, play
+from handsroom.machine import Machine
+from handsroom.marks import lost
+from handsroom.orders import shortest_lock_cycle
+from handsroom.products import Product
 from handsroom.records import records
+from handsroom.replay import length_of, replay
+from handsroom.requests import Requests
 from handsroom.routines import Routine, choices_of, row_path
+from handsroom.runs import marked_records, stale_run
+from handsroom.shown import weaving_along
 from handsroom.signatures import Signature
 from handsroom.spreading import Spread
+from handsroom.standard import moves_along, standard_moves
 from handsroom.tables import RoomTable
+from handsroom.twohands import find_opening, find_stale_woven, open_places
+from handsroom.weavings import leave_out
 
 
 def plain(value):
@@ -72,20 +88,55 @@ class GeneralTest(unittest.TestCase):
             (lambda nodes: RoomTable(spread).spot_of(nodes), [path]),
         ]
 
+    def later_calls(self):
+        """The same for the modules of [41] and behind."""
+        house = House.read(WORDS)
+        spread = Spread(house, "p")
+        path = list(LoneTable(spread).path_to(LoneTable(spread).nodes[-1]))
+        known = list(marked_records(spread, path))[-1]
+        firsts = [("box", [1]), ("free", (2,)), ("box", [3])]
+        turns = [(0, ("start", "q", [0, 1])), (1, ("start", "q", [2, 1])), (0, ("go", None, 1))]
+        product = Product(house, "q", "q", "free", "size")
+        way = list(product.way_to(product.states[-1]))
+        locks, rows = ["b", "a"], [(["a"], "b", 3), (["b", "b"], "a", 1)]
+        table = Requests(locks, rows)
+        cycle = list(least_cycle(table))
+        return [
+            (lambda sorts: lost(spread, known, sorts), [[("box", "size"), ("free", "size")]]),
+            (lambda nodes: list(marked_records(spread, nodes)), [path]),
+            (lambda nodes: stale_run(spread, nodes, "c", "size"), [path]),
+            (lambda nodes: HeldTable(spread).spot_of(nodes), [path]),
+            (lambda told: Heap.begun(house, told), [firsts]),
+            (lambda told: Machine(house, told).heap_now, [firsts]),
+            (lambda told, woven: state_of(replay(house, told, woven)), [firsts, turns]),
+            (length_of, [turns]),
+            (lambda told, woven, hands: leave_out(house, told, woven, hands), [firsts, turns, [1]]),
+            (lambda nodes, stack: standard_moves(house, "p", nodes, stack=stack), [path, ["m"]]),
+            (lambda nodes, objects, answers: moves_along(house, "p", nodes, objects, answers),
+             [path, [0, 1, 2], [() if spread.points[node[0]].step[0] == "call" else None for node in path]]),
+            (lambda nodes: endings(spread, nodes), [path]),
+            (lambda states: weaving_along(product, states), [way]),
+            (Requests, [locks, rows]),
+            (lambda some: table.kept_to(some), [["a"]]),
+            (lambda told: total_length(table, told), [cycle]),
+            (lambda some: least_cycle_within(table, some), [locks]),
+            (lambda told, pairs: shortest_lock_cycle(told, pairs), [locks, [("a", "b"), ("b", "a")]]),
+        ]
+
     def test_lists_and_tuples_do_the_same(self):
-        for call, told in self.calls():
+        for call, told in self.calls() + self.later_calls():
             first = plain(call(*told))
             self.assertEqual(first, plain(call(*[tuple(one) for one in told])))
             self.assertEqual(first, plain(call(*told)))
 
     def test_nothing_that_is_passed_is_modified(self):
-        for call, told in self.calls():
+        for call, told in self.calls() + self.later_calls():
             before = plain(copy.deepcopy(told))
             call(*told)
             self.assertEqual(plain(told), before)
 
     def test_results_of_several_parts_are_tuples(self):
-        for call, told in self.calls():
+        for call, told in self.calls() + self.later_calls():
             found = call(*told)
             for part in vars(found).values() if hasattr(found, "__dict__") else [found]:
                 self.assertTrue(tuples_only(part) or isinstance(found, list), (told, part))
@@ -96,6 +147,10 @@ class GeneralTest(unittest.TestCase):
                 one, two = [Spread(House.read(text), name) for _ in range(2)]
                 self.assertEqual(LoneTable(one).nodes, LoneTable(two).nodes)
         self.assertEqual(plain(find_bare(House.read(BASIC))), plain(find_bare(House.read(BASIC))))
+        for ask in (open_places, find_stale_woven, lambda house: find_opening(house, "r", 3)):
+            self.assertEqual(plain(ask(House.read(BASIC))), plain(ask(House.read(BASIC))))
+        one, two = [Product(House.read(WORDS), "q", "q", "free", "size") for _ in range(2)]
+        self.assertEqual((one.states, one.open_states()), (two.states, two.open_states()))
 
     def test_numbers_of_many_digits(self):
         big = 10 ** 60 - 1

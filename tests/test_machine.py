@@ -326,6 +326,16 @@ class AttemptTest(unittest.TestCase):
         self.assertEqual((len(third), len(twin), len(machine)), (3, 2, 1))
 
 
+    def test_a_list_that_is_emptied_later_changes_nothing(self):
+        numbers = [1, 2]
+        machine = Machine(HOUSE, [("box", numbers), ("bag", (3,)), ("box", (4, 5))])
+        numbers.clear()
+        machine.attempt(INSIDE)
+        twin = machine.duplicate()
+        twin.turn(0, ("leave", None, 6))
+        self.assertEqual((state_of(machine), len(twin.turns_made)), (state_of(machine_after(*INSIDE)), len(INSIDE) + 1))
+
+
 class RingTest(unittest.TestCase):
     HOUSE = House.read("lock a\nlock b\nlock c\nlock d\nkind k - n\n" + "\n".join(
         f"routine r{one}{two}\ndo take {one}, take {two}\ndone" for one, two in ("ab", "bc", "ca", "dd")))
