@@ -15,15 +15,14 @@ def _named(step, move):
     """The objects that a move names."""
     if move[0] == "start":
         return move[2]
-    is_fetch = move[0] == "go" and step[0] == "fetch"
-    return (move[1],) if is_fetch or move[0] == "change" else ()
+    return (move[1],) if step[0] == "fetch" or move[0] == "change" else ()
 
 
 def _used(machine, hand, step, move):
     """The pair (object, field) whose number a turn reads, writes or changes, None if there is none."""
     if move[0] == "change":
         return move[1:3]
-    if move[0] == "go" and step[0] in ("read", "write"):
+    if step[0] in ("read", "write"):
         return machine.hand_at(hand).leads_to(step[1]), step[2]
     return None
 

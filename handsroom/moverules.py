@@ -43,11 +43,10 @@ def _fits_place(spread, hand, word):
 
 def _body_makes(spread, heap, hand, move):
     """True if the body that a hand is in can make the move, which has the parts of its word."""
-    if move[0] == "take":
-        return hand.wanted is not None
     step = spread.points[hand.point].step
     objects = [(kind, owner is None) for kind, _, owner in heap.object_rows]
     passed = [hand.leads_to(name) for name in step[2]]
+    # Nothing is told to be held, as a take needs a wanted lock only: waiting is no rule.
     setting = Setting(spread.house.hall, objects, *passed)
     inside = Inside(hand.stack, hand.wanted, False)
     # A leave has its next point as a part that only a machine knows.

@@ -90,7 +90,7 @@ class Product:
         steps = self._steps_of(0, state) + self._steps_of(1, state)
         if self._can_strike(state):
             steps.append((1, 0, state[:3] + ("struck",)))
-        return tuple([step for at, step in enumerate(steps) if step not in steps[:at]])
+        return tuple(steps)
 
     def _steps_of(self, hand, state):
         """The steps of a hand but for strikes."""

@@ -22,7 +22,7 @@ def _steps_along(product, way):
     found = []
     for position in range(1, len(way)):
         before, after = way[position - 1], way[position]
-        step = _step_between(product, before, after) if after in product else None
+        step = _step_between(product, before, after)
         if step is None:
             raise BadPath(position)
         found.append(step + (before, after))

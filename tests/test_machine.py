@@ -123,6 +123,10 @@ class RuleTest(unittest.TestCase):
         for move in [("start",), ("start", "r"), ("start", "r", (0, 2, 1), 0), ("start", "none")]:
             self.refuse([(0, START)], move, "word", hand=1)
 
+    def test_moves_that_are_none(self):
+        for value in ODD_VALUES + ((None, None, 1), (["go"], None, 1), ((), None, 1)):
+            self.refuse([(0, START)], value, "word")
+
     def test_when_a_hand_is_over(self):
         text = "kind k - n\nroutine r\ndone"
         machine = machine_after((0, ("start", "r", ())), (0, ("go", None, None)), house=House.read(text),

@@ -144,6 +144,9 @@ class LostTest(unittest.TestCase):
             self.assertIs(type(found), Marked)
             self.assertEqual(found.key(), (BLOCKS, ("y",), (), without(("x", "n"), ("b", "n"), ("z", "n"))))
         self.assertEqual(lost(SPREAD, record(), []).known, ALL)
+        # A field of this name of another kind stays.
+        self.assertEqual(lost(SPREAD, record(), [("box", "n")]).known, without(("x", "n"), ("y", "n"), ("z", "n")))
+        self.assertEqual(lost(SPREAD, record(), [("bag", "n")]).known, without(("b", "n")))
         self.assertEqual(lost(SPREAD, record(), [("cup", "m"), ("box", "m")]).known,
                          without(("x", "m"), ("y", "m"), ("z", "m")))
 

@@ -199,7 +199,10 @@ class ErrorTest(unittest.TestCase):
             (NOT, NOT, [], "nothing"), (NOT, NOT, "none", "fresh"), (GONE, NOT, "none", "nothing"),
             (((0, []), ()), NOT, "none", "nothing"), (((0, ()), []), NOT, "none", "nothing"),
             (((0, ()), (["x"],)), NOT, "shared", "nothing"), (((False, ()), ()), NOT, "none", "nothing"),
-            (((0, ()), ("u",)), NOT, "shared", "nothing"), (((9, ()), ()), NOT, "none", "nothing")]
+            (((0, ()), ("u",)), NOT, "shared", "nothing"), (((9, ()), ()), NOT, "none", "nothing"),
+            (NOT + ((),), NOT, "none", "nothing"), (NOT[:1], NOT, "none", "nothing"), ((), NOT, "none", "nothing"),
+            (NOT, ((0, []), ()), "none", "nothing"), (NOT, list(NOT), "none", "nothing"), (NOT, None, "none", "nothing"),
+            (NOT, NOT + ((),), "none", "nothing"), (NOT, ((0, ()), ([],)), "shared", "nothing")]
         for value in values:
             self.assertIs(value in given, False, value)
             self.assertEqual(error_of(given.distance_to, value), ("NoState", value))

@@ -133,6 +133,20 @@ class WayTest(unittest.TestCase):
             for told in pairs_of(house):
                 self.check_product(rng, house, told, 5)
 
+    def test_a_made_object_that_another_hand_is_led_to(self):
+        text = "kind k - n\nroutine r x:k y:k\ndo make x, make y, put y\ndone\nroutine w u:k\ndo write u n\ndone"
+        product = Product(House.read(text), "r", "w", "k", "n")
+        self.field = "n"
+        none, y = (None, ()), ("y",)
+        way = [FIRST, (((0, ()), ()), none, "none", "nothing"), (((1, ()), ()), none, "none", "nothing"),
+               (((2, ()), y), none, "keeper", "fresh"), (((3, ()), y), none, "shared", "fresh"),
+               (((3, ()), y), ((0, ()), ("u",)), "shared", "fresh"), (((3, ()), y), ((1, ()), ("u",)), "shared", "struck")]
+        for many in range(1, len(way) + 1):
+            self.check(product, way[:many])
+        # The first objects are one for x and one for y, then come those that are made.
+        firsts, turns = weaving_along(product, way)
+        self.assertEqual((len(firsts), turns[-2]), (2, (1, ("start", "w", (3,)))))
+
     def test_the_beginning(self):
         product = Product(HOUSE, "r", "w", "box", "n")
         self.field = "n"

@@ -115,6 +115,14 @@ class PointsTest(OpeningCheck, unittest.TestCase):
         found = find_opening(house, "r", 1)
         self.assertEqual((found.hands, found.length, length_of(found.turns)), (2, 4, 5))
 
+    def test_a_keeper_that_starts_last(self):
+        """The other hand writes only what it made, so the keeper must be led to this when it is shared."""
+        house = house_of("do read x n, keep x n", others="\nroutine w u:box\ndo make u, put u, write u n\ndone")
+        found = find_opening(house, "r", 1)
+        self.check_opening(house, found)
+        self.assertEqual((found.hands, found.length, found.turns[-1]), (2, 4, (1, ("go", None, 2))))
+        self.assertEqual([move[1] for _, move in found.turns if move[0] == "start"], ["w", "r"])
+
     def test_points_that_are_never_reached(self):
         self.assertEqual(self.places("do take a as g, take a, read x n, keep x n"), ())
         self.assertEqual(self.places(), ())
