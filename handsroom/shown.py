@@ -81,7 +81,9 @@ class Weaver:
     def _start(self, hand, later):
         self.hands.append(hand)
         routine = routine_in(self.spreads[hand])
-        objects = [self._object_for(kind, name in later) for name, kind in routine.names]
+        objects = []
+        for name, kind in routine.names:
+            objects.append(self._object_for(kind, name in later))
         self._say(hand, [("start", routine.name, tuple(objects))])
 
     def _answer(self, hand, node, later):

@@ -1,5 +1,9 @@
 """The examples of the interface, with the answers that it prints."""
 
+import contextlib
+import io
+import os
+import re
 import unittest
 
 from handsroom.answers import Setting, first_wrong, own_stacks, parting
@@ -20,6 +24,21 @@ from handsroom.spreading import Spread
 from handsroom.standard import standard_moves
 from handsroom.tables import RoomTable
 from handsroom.twohands import find_stale_woven, spared_for_all
+
+
+README = os.path.join(os.path.dirname(os.path.dirname(os.path.abspath(__file__))), "README.md")
+
+
+class ReadmeTest(unittest.TestCase):
+    def test_the_blocks_print_what_they_say(self):
+        with open(README, encoding="utf-8") as told:
+            blocks_of_code = re.findall(r"```python\n(.*?)```", told.read(), re.S)
+        self.assertEqual(len(blocks_of_code), 2)
+        for block in blocks_of_code:
+            printed = io.StringIO()
+            with contextlib.redirect_stdout(printed):
+                exec(block, {})
+            self.assertEqual(printed.getvalue().splitlines(), re.findall(r"^print.* # (.*)$", block, re.M))
 
 
 class ExampleTest(unittest.TestCase):

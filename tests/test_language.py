@@ -216,6 +216,21 @@ class NameTest(unittest.TestCase):
                 if isinstance(node, ast.Attribute):
                     self.assertNotIn(node.attr, BARRED, (name, node.lineno))
 
+    def test_private_names_that_are_not_used(self):
+        barred = r"\A(_wall|_pe_|_dcw_|_enum_|_cm_|_twin_re_|_lay_|_law_|_stub_|_sre|_WallAttr)" \
+                 r"|\A(_cold|_tuplegetter|_outside|_record|_written_out|_member_names)[0-9_]*\Z"
+        for name, node in nodes((ast.Name, ast.FunctionDef, ast.ClassDef, ast.arg, ast.Attribute)):
+            for part in ("id", "name", "arg", "attr"):
+                self.assertNotRegex(getattr(node, part, ""), barred, (name, node.lineno))
+
+    def test_words_that_do_not_occur(self):
+        words = ("typing typing_extensions enum Enum IntEnum StrEnum Flag IntFlag Generic Protocol ABC ABCMeta namedtuple "
+                 "NamedTuple TypedDict TYPE_CHECKING abstractmethod type keys").split()
+        for name in SOURCES:
+            plain = re.sub(r'""".*?"""|#[^\n]*', "", source(name), flags=re.S)
+            for word in words:
+                self.assertNotRegex(plain, rf"\b{word}\b", name)
+
     def test_underscore_is_never_read(self):
         for name, node in nodes(ast.Name):
             self.assertFalse(node.id == "_" and isinstance(node.ctx, ast.Load), (name, node.lineno))
@@ -292,6 +307,23 @@ class ClassTest(unittest.TestCase):
         for name, node in nodes(ast.Attribute):
             self.assertIn(node.attr, assigned | methods | values | set(METHODS), (name, node.lineno))
 
+    def test_operators_that_need_others(self):
+        for owner in classes():
+            names = {function.name for one, function in self.methods() if one == owner}
+            if "__getitem__" in names:
+                self.assertIn("__iter__", names, owner)
+            # Without an order of its own no class needs the forms that orders ask for.
+            self.assertFalse(names & {"__lt__", "__le__", "__gt__", "__ge__", "__ne__", "__call__", "__bool__"}, owner)
+
+    def test_supers(self):
+        for owner, function in self.methods():
+            for node in ast.walk(function):
+                for child in ast.iter_child_nodes(node):
+                    if isinstance(child, ast.Call) and getattr(child.func, "id", "") == "super":
+                        self.assertEqual(child.args, [], owner)
+                        self.assertIsInstance(node, ast.Attribute)
+                        self.assertTrue(node.attr == function.name == "__init__" or not node.attr.startswith("_"), owner)
+
     def test_error_classes(self):
         tree = trees()["errors.py"]
         for node in tree.body:
@@ -312,6 +344,21 @@ class ClassTest(unittest.TestCase):
 
 
 class StatementTest(unittest.TestCase):
+    def test_lambdas_of_one_line(self):
+        for name in SOURCES:
+            for line in source(name).split("\n"):
+                self.assertLessEqual(line.count("lambda"), 1, name)
+
+    def test_builtins_with_keywords(self):
+        allowed = {"sorted": ("key", "reverse"), "min": ("key", "default"), "max": ("key", "default"), "sum": ("start",),
+                   "enumerate": ("start",), "zip": ("strict",)}
+        for name, node in nodes(ast.Call):
+            if isinstance(node.func, ast.Name) and node.func.id in dir(builtins):
+                for keyword in node.keywords:
+                    self.assertIn(keyword.arg, allowed.get(node.func.id, ()), (name, node.lineno))
+            if isinstance(node.func, ast.Attribute) and node.func.attr in METHODS:
+                self.assertEqual(node.keywords, [], (name, node.lineno))
+
     def test_comparisons_with_is(self):
         for name, node in nodes(ast.Compare):
             for sign, other in zip(node.ops, node.comparators):
