@@ -224,6 +224,21 @@ class RuleTest(unittest.TestCase):
         self.refuse(INSIDE, ("leave", "a", 7), "inside")
         self.refuse(TO_FETCH, ("go", 2, 7), "next")
         self.refuse(TO_WRITE, ("go", None, None), "next")
+        # An earlier rule beside later ones, for each pair of rules that one move can break.
+        self.refuse([], ("start", "none", (0,), 0), "word")
+        self.refuse([], ("start", "r", (0,), 0), "word")
+        self.refuse([], ("start", "none", (0,)), "routine")
+        self.refuse(INSIDE, ("want", "none", "b"), "word")
+        self.refuse(INSIDE, ("take", "none"), "word")
+        self.refuse(INSIDE, ("leave", "none"), "word")
+        self.refuse(INSIDE, ("go", 7, 99), "word")
+        self.refuse(TO_CALL, ("leave", "none", 99), "word")
+        self.refuse(TO_CALL, ("go", 7, 99), "word")
+        self.refuse(TO_WRITE, ("go", None, 99, 1), "word")
+        self.refuse(INSIDE, ("leave", "b", 99), "inside")
+        self.refuse(INSIDE, ("leave", None, 99), "next")
+        self.refuse(TO_FETCH, ("go", 99, 99), "next")
+        self.refuse(TO_FETCH, ("go", 99, 2), "answer")
 
     def test_waiting_comes_last(self):
         other = ((1, ("start", "s", ())), (1, ("go", None, 1)))
@@ -239,6 +254,8 @@ class RuleTest(unittest.TestCase):
         machine = machine_after(*INSIDE, (0, ("want", "b")), (1, ("start", "s", ())), (1, ("go", None, 1)))
         self.assertEqual(error_of(machine.turn, 0, ("take",)), ("MustWait", "b", 1))
         self.assertEqual(error_of(machine.turn, 0, ("take", 1)), ("WrongMove", ("take", 1), "word"))
+        for move in [("back",), ("want", "b"), ("leave", None, 6), ("change", 0, "f", 1)]:
+            self.assertEqual(error_of(machine.turn, 0, move), ("WrongMove", move, "inside"))
         self.assertEqual((machine.hand_at(0).stack, machine.hand_at(0).wanted), ((), "b"))
 
     def test_waiting_for_itself(self):

@@ -121,6 +121,7 @@ class LeaveOutTest(unittest.TestCase):
         for value in NO_NUMBERS + (3, -1, 10 ** 40):
             self.assertEqual(error_of(leave_out, self.HOUSE, self.FIRSTS, self.TURNS, [0, value, "none"]), ("NoHand", value))
         self.assertEqual(error_of(leave_out, self.HOUSE, self.FIRSTS, (), [0]), ("NoHand", 0))
+        self.assertEqual(leave_out(self.HOUSE, self.FIRSTS, (), []), ((("k", (1, 2)), ("j", (3,))), ()))
         wrong = self.TURNS[:3] + ((0, ("enter",)),) + self.TURNS[3:]
         self.assertEqual(error_of(leave_out, self.HOUSE, self.FIRSTS, wrong, [9]), ("Refused", 3))
         self.assertEqual(error_of(leave_out, self.HOUSE, [("none", ())], wrong, [9]), ("NoSuch", "none"))
