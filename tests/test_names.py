@@ -107,7 +107,10 @@ class RenamedTest(unittest.TestCase):
             for name in names:
                 for point, told in enumerate(Spread(house, name).points):
                     if told.step[0] in ("read", "keep"):
-                        found = [find_opening(given, name, point) for given in (house, other)]
+                        try:
+                            found = [find_opening(given, name, point) for given in (house, other)]
+                        except TooLarge:
+                            continue
                         self.assertEqual(*[one and (one.hands, one.length, one.turns) for one in
                                            (found[0] and self.translated(found[0]), found[1])])
                         opened += found[0] is not None
