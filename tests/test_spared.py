@@ -1,18 +1,22 @@
 """[48], [49]: spared reads and the kept house."""
 
 import itertools
+import random
 import unittest
 
 from helpers import TEXTS, error_of
-from random_houses import random_house
+from random_houses import busy_house, random_house, random_path
 from test_judging import HEAD, LARGE, house
 from handsroom.bareness import touch_statuses
 from handsroom.changing import keeping
 from handsroom.errors import TooLarge
 from handsroom.houses import House
+from handsroom.joining import joined_run
 from handsroom.judging import HeldTable, demand_statuses, find_stale
 from handsroom.lonetable import LoneTable
+from handsroom.loneruns import play
 from handsroom.routines import each_deed
+from handsroom.runs import stale_run
 from handsroom.spared import kept, spared
 from handsroom.spreading import Spread
 from handsroom.tables import RoomTable
@@ -103,6 +107,26 @@ class SparedTest(unittest.TestCase):
                 before, after = [touch_statuses(RoomTable(spread)) for spread in spreads]
                 for point in range(len(before)):
                     self.assertIn(after[point], (before[point], None))
+
+    def test_runs_of_the_kept_house(self):
+        """[49]: a run is a run of the kept house, too, and the same numbers are shown."""
+        rng = random.Random(49)
+        shown = 0
+        for seed in range(300):
+            one = busy_house(seed, rows=8, names=3)
+            other = kept(one)
+            if other == one:
+                continue
+            for routine in one.routines:
+                spread, twin = Spread(one, routine.name), Spread(other, routine.name)
+                path = random_path(rng, spread, 15)
+                runs = [joined_run(spread, path)]
+                runs += [stale_run(spread, path, name, one.fields_of(kind)[0]) for name, kind in routine.names]
+                for run in [run for run in runs if run is not None]:
+                    first, second = play(spread, path, run), play(twin, path, run)
+                    self.assertEqual((first.shown, first.contents), (second.shown, second.contents))
+                    shown += len([number for number in first.shown if number is not None])
+        self.assertGreater(shown, 100)
 
 
 if __name__ == "__main__":
