@@ -1,4 +1,4 @@
-"""Runs the test_*.py files of each folder that is told, each folder in a process of its own.
+"""Runs the test_*.py files of each folder that is told, each file in a process of its own.
 
 The last line tells how many tests passed and failed; the exit code is 1 if one failed.
 """
@@ -8,6 +8,7 @@ import subprocess
 import sys
 import tempfile
 import unittest
+from concurrent.futures import ThreadPoolExecutor
 
 ROOT = os.path.dirname(os.path.dirname(os.path.abspath(__file__)))
 
@@ -37,47 +38,53 @@ class Counting(unittest.TextTestResult):
         self.wrong[test.id()] = True
 
 
-def run_folder(folder, report):
-    """Runs the tests of one folder and writes its counts to the report file."""
-    sys.path.insert(0, ROOT)
-    suite = unittest.TestLoader().discover(folder, pattern="test_*.py", top_level_dir=folder)
+def run_module(folder, name, report):
+    """Runs the tests of one file of a folder and writes its counts to the report file."""
+    sys.path[:0] = [folder, ROOT]
+    suite = unittest.TestLoader().loadTestsFromName(name)
     runner = unittest.TextTestRunner(stream=sys.stderr, resultclass=Counting, verbosity=1)
     result = runner.run(suite)
     skipped = len(result.skipped)
-    # A folder whose setUpClass fails has an error without a test run.
+    # A class whose setUpClass fails has an error without a test run.
     failed = len(result.wrong)
     passed = max(result.testsRun - failed - skipped, 0)
     with open(report, "w", encoding="utf-8") as out:
         out.write(f"{passed} {failed}")
 
 
-def counts_of(folder):
-    """The pair (passed, failed) of a folder; a process that dies counts as one failure."""
+def counts_of(told):
+    """The triple (passed, failed, output) of one file; a process that dies counts as one failure."""
+    folder, name = told
     with tempfile.TemporaryDirectory() as place:
         report = os.path.join(place, "counts")
-        command = [sys.executable, os.path.abspath(__file__), "--folder", folder, report]
-        done = subprocess.run(command, cwd=ROOT)
+        command = [sys.executable, os.path.abspath(__file__), "--module", folder, name, report]
+        done = subprocess.run(command, cwd=ROOT, stdout=subprocess.PIPE, stderr=subprocess.STDOUT)
+        output = f"== {os.path.basename(folder)}/{name}\n" + done.stdout.decode("utf-8", "replace")
         if done.returncode != 0 or not os.path.exists(report):
-            return 0, 1
-        with open(report, encoding="utf-8") as told:
-            passed, failed = told.read().split()
-    return int(passed), int(failed)
+            return 0, 1, output
+        with open(report, encoding="utf-8") as counts:
+            passed, failed = counts.read().split()
+    return int(passed), int(failed), output
 
 
-def has_tests(folder):
-    """True if the folder is there and holds a test file, also in a folder below it."""
-    for _, _, names in os.walk(folder):
-        if any(name.startswith("test_") and name.endswith(".py") for name in names):
-            return True
-    return False
+def test_modules(folder):
+    """The names of the test modules of a folder, also of those in folders below it."""
+    found = []
+    for place, _, names in os.walk(folder):
+        for name in names:
+            if name.startswith("test_") and name.endswith(".py"):
+                path = os.path.relpath(os.path.join(place, name), folder)
+                found.append(path[:-3].replace(os.sep, "."))
+    return sorted(found)
 
 
 def main(folders):
+    told = [(os.path.join(ROOT, name), module) for name in folders for module in test_modules(os.path.join(ROOT, name))]
     passed = failed = 0
-    for name in folders:
-        folder = os.path.join(ROOT, name)
-        if has_tests(folder):
-            more, wrong = counts_of(folder)
+    # Each file has a process of its own, so that they run beside one another and leave nothing behind.
+    with ThreadPoolExecutor(max_workers=os.cpu_count() or 1) as pool:
+        for more, wrong, output in pool.map(counts_of, told):
+            sys.stderr.write(output)
             passed += more
             failed += wrong
     if passed + failed == 0:
@@ -88,7 +95,7 @@ def main(folders):
 
 
 if __name__ == "__main__":
-    if sys.argv[1:2] == ["--folder"]:
-        run_folder(sys.argv[2], sys.argv[3])
+    if sys.argv[1:2] == ["--module"]:
+        run_module(*sys.argv[2:])
     else:
         sys.exit(main(sys.argv[1:]))

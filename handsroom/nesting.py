@@ -46,3 +46,13 @@ def nests(house, name):
 def house_nests(house):
     """True if all routines of the house nest."""
     return all([nests(house, routine.name) for routine in house.routines])
+
+
+def breach_of(house):
+    """The pair (name, path of its lone table to its first breach) of the first routine that does not nest, or None."""
+    for routine in house.routines:
+        table = LoneTable(Spread(house, routine.name))
+        breach = first_breach(table)
+        if breach is not None:
+            return routine.name, table.path_to(breach)
+    return None

@@ -36,15 +36,20 @@ def shortest_lock_cycle(locks, pairs):
     return min(found, key=len) if len(found) > 0 else ()
 
 
+def least_order(locks, pairs):
+    """The least order of locks in which the first lock of each pair comes ahead; the pairs have no lock cycle."""
+    order = []
+    while len(order) < len(locks):
+        left = [lock for lock in locks if lock not in order]
+        free = [lock for lock in left if not any([(other, lock) in pairs for other in left])]
+        order.append(free[0])
+    return tuple(order)
+
+
 def lock_order(requests):
     """The least order of a table."""
     pairs = lock_pairs(requests)
     cycle = shortest_lock_cycle(requests.locks, pairs)
     if len(cycle) > 0:
         raise NoLockOrder(cycle)
-    order = []
-    while len(order) < len(requests.locks):
-        left = [lock for lock in requests.locks if lock not in order]
-        free = [lock for lock in left if not any([(other, lock) in pairs for other in left])]
-        order.append(free[0])
-    return tuple(order)
+    return least_order(requests.locks, pairs)

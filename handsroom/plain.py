@@ -14,3 +14,8 @@ def is_index(value, size):
 def has_repeat(values):
     """True if a value stands twice in a list or tuple."""
     return any([value in values[:at] for at, value in enumerate(values)])
+
+
+def in_order(values, chosen):
+    """Those of the values that are chosen, in their order."""
+    return tuple([value for value in values if value in chosen])

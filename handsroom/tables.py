@@ -35,8 +35,12 @@ class RoomTable:
         """The record behind the step of a node."""
         return record_after(self.spread, record, self.spread.points[node[0]].step)
 
+    def _reached(self, node, record):
+        """The record with which a node is reached, made from the one behind the step before."""
+        return record
+
     def _found_spots(self):
-        first = self._first()
+        first = self._reached(START, self._first())
         found = [(START, first, 0, None)]
         numbers = {(START, first.key()): 0}
         nexts = []
@@ -46,10 +50,11 @@ class RoomTable:
             behind = self._behind(node, record)
             following = []
             for reached in next_nodes(self.spread, node):
-                key = (reached, behind.key())
+                later = self._reached(reached, behind)
+                key = (reached, later.key())
                 if key not in numbers:
                     numbers[key] = len(found)
-                    found.append((reached, behind, depth + 1, at))
+                    found.append((reached, later, depth + 1, at))
                 following.append(numbers[key])
             if len(found) > self.MOST_SPOTS:
                 raise TooLarge("spots")

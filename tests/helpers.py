@@ -66,3 +66,8 @@ FULL = "\n".join([
     "routine r2 g1:k1", "done", "routine r3", "repeat", "close", "done", "routine r4 r4:k2", "do fetch r4", "done",
 ])
 TEXTS = (BASIC, WORDS, SETTLED, FULL)
+# A house of which the second routine has more than 600 spots in each of its tables.
+LARGE_HOUSE = "\n".join(
+    ["lock a", "kind k - n", "routine q x:k", "do read x n", "done", "routine r x:k y:k z:k w:k", "repeat"]
+    + [row for deed in ("make x", "make y", "copy z x", "copy w z", "fetch x y", "put z")
+       for row in ("either", "do " + deed, "close")] + ["close", "done"])

@@ -10,9 +10,9 @@ from handsroom.rows import Row
 from handsroom.signatures import Signature, all_marks, needed_marks
 
 
-def random_signature(rng, hall, places):
+def random_signature(rng, hall, places, many=0.4):
     """A signature with some of the marks that it can have."""
-    marks = [mark for mark in all_marks(hall, places) if rng.random() < 0.4]
+    marks = [mark for mark in all_marks(hall, places) if rng.random() < many]
     if rng.random() < 0.5:
         marks = [mark for mark in marks if mark[0] != "gives"]
     marks += [need for mark in marks for need in needed_marks(hall, places, mark)]
@@ -37,8 +37,9 @@ GUARD_WORDS = ("take", "take", "take", "take", "call", "call", "skip")
 class Writer:
     """Writes random rows of one routine."""
 
-    def __init__(self, rng, hall, bodies, names, most, words=WORDS):
+    def __init__(self, rng, hall, bodies, names, most, words=WORDS, named=0.5):
         self.words = words
+        self.named = named
         self.rng = rng
         self.hall = hall
         self.bodies = bodies
@@ -71,7 +72,7 @@ class Writer:
         return (word, x, rng.choice(self.hall.fields_of(dict(self.names)[x])))
 
     def guarded(self, deed):
-        if self.rng.random() < 0.5:
+        if self.rng.random() < 1 - self.named:
             return deed
         self.guards += 1
         return deed + ("as", f"g{self.guards}")
@@ -153,6 +154,89 @@ def busy_house(seed, *, rows=4, names=2, routines=2, words=BUSY_WORDS):
                      for x in ["x", "y", "z"][:rng.randint(1, names)]]
             try:
                 written.append(Routine(name, pairs, Writer(rng, hall, bodies, pairs, rows, words).rows(0)))
+            except HandsError:
+                break
+        if len(written) == routines:
+            return House(hall, bodies, written)
+
+
+def lock_house(seed, *, rows=4, locks=3, routines=2):
+    """A random house whose hands take many locks, most of them by guards without a name."""
+    rng = random.Random(seed)
+    while True:
+        hall = Hall(["a", "b", "c", "d"][:rng.randint(2, locks)], ("box", None, "f"))
+        bodies = [(body, random_signature(rng, hall, [], 0.5)) for body in ["p", "q"][:rng.randint(1, 2)]]
+        written = []
+        for name in ["r", "s", "t"][:routines]:
+            writer = Writer(rng, hall, bodies, [], rows, ("take", "take", "take", "call", "call", "skip"), 0.2)
+            try:
+                written.append(Routine(name, [], [Row("with", ("take", rng.choice(hall.locks)))] + writer.rows(1)
+                                       + [Row("close")] + (writer.rows(1) if rng.random() < 0.3 else [])))
+            except HandsError:
+                break
+        if len(written) == routines:
+            return House(hall, bodies, written)
+
+
+def nested_house(seed, *, locks=3, routines=2):
+    """A random house whose routines take different locks in one another, and call bodies there."""
+    rng = random.Random(seed)
+    hall = Hall(["a", "b", "c", "d"][:rng.randint(2, locks)], ("box", None, "f"))
+    bodies = [(body, random_signature(rng, hall, [], 0.35)) for body in ["p", "q"]]
+    written = []
+    for name in ["r", "s", "t"][:routines]:
+        left = list(hall.locks)
+        rng.shuffle(left)
+        rows, closing = [], []
+        while left and rng.random() < 0.8:
+            lock = left.pop()
+            if rng.random() < 0.25:
+                rows.append(Row("do", ("take", lock), ("skip",)))
+            calls = [(body, signature) for body, signature in bodies if set(signature.takes) <= set(left)]
+            if calls and rng.random() < 0.5:
+                rows.append(Row("do", ("call", rng.choice(calls)[0], ())))
+            deep = len(closing) == 4 or rng.random() < 0.3
+            rows.append(Row("do", ("take", lock, "as", "g" + lock)) if deep else Row("with", ("take", lock)))
+            if not deep:
+                closing.append(Row("close"))
+            if len(closing) < 4 and rng.random() < 0.2:
+                rows += [Row("either")]
+                closing.append(Row("close"))
+        calls = [(body, signature) for body, signature in bodies if set(signature.takes) <= set(left)]
+        if calls and rng.random() < 0.7:
+            rows.append(Row("do", ("call", rng.choice(calls)[0], ())))
+        written.append(Routine(name, [], rows + closing))
+    return House(hall, bodies, written)
+
+
+def careless_house(seed, *, routines=2):
+    """A random house of one kind behind a lock, in which many guards end too early or too late."""
+    rng = random.Random(seed)
+    while True:
+        hall = Hall(["a", "b"][:rng.randint(1, 2)], ("box", "a", "f"))
+        bodies = [("p", Signature(hall, "box", marks=[("writes", "box", "f")])),
+                  ("q", Signature(hall, marks=[("takes", "a"), ("gives", "a")]))]
+        written = []
+        for name in ["r", "s", "t"][:routines]:
+            rows = []
+            for _ in range(rng.randint(1, 4)):
+                deeds = []
+                for _ in range(rng.randint(1, 3)):
+                    word = rng.choice(("take", "take", "read", "keep", "keep", "write", "body", "lend", "make", "skip"))
+                    deeds.append({"take": ("take", rng.choice(("a",) * 3 + hall.locks)), "make": ("make", "x"),
+                                  "write": ("write", "x", "f"), "body": ("call", "p", ("x",)),
+                                  "lend": ("call", "q", ()), "skip": ("skip",)}.get(word, (word, "x", "f")))
+                takes = [deed for deed in deeds if deed[:2] in (("take", "a"), ("call", "q"))]
+                if len(takes) > 1 or rng.random() < 0.5 and any(deed[0] not in ("skip", "make") for deed in deeds):
+                    deeds = [("take", "a")] + [deed for deed in deeds if deed not in takes]
+                rows.append(Row("do", *deeds))
+                if rng.random() < 0.2:
+                    rows += [Row("with", *deeds), Row("do", rng.choice((("keep", "x", "f"), ("read", "x", "f")))), Row("close")]
+                    rows.pop(-4)
+                if rng.random() < 0.15:
+                    rows += [Row(rng.choice(("either", "repeat"))), Row("do", ("keep", "x", "f")), Row("close")]
+            try:
+                written.append(Routine(name, [("x", "box")], rows))
             except HandsError:
                 break
         if len(written) == routines:

@@ -15,6 +15,7 @@ from handsroom.houses import House
 from handsroom.judging import HeldTable, demand_statuses, find_stale
 from handsroom.kinds import Hall
 from handsroom.loneruns import Run, play
+from handsroom.needs import requests_of, stand_for
 from handsroom.orders import lock_order
 from handsroom.requests import Requests
 from handsroom.routines import blocks, next_rows, row_path, scopes
@@ -24,6 +25,7 @@ from handsroom.spreading import Spread
 from handsroom.standard import standard_moves
 from handsroom.tables import RoomTable
 from handsroom.twohands import find_stale_woven, spared_for_all
+from handsroom.writers import is_gated, writer_sets
 
 
 README = os.path.join(os.path.dirname(os.path.dirname(os.path.abspath(__file__))), "README.md")
@@ -125,6 +127,22 @@ class ExampleTest(unittest.TestCase):
         self.assertEqual(
             [find_stale_woven(alone), spared_for_all(alone), found.routine, found.point, found.hands, found.length],
             [None, (('a', 0, 1),), 'a', 2, 2, 3])
+
+    def test_needs(self):
+        house = House.read("lock a\nlock b\nkind k - n\nbody h : +a +b a>b\nroutine run\nwith take b\ndo call h\nclose\n"
+                           "done")
+        stand = stand_for(house, (("a", "b"), "b"))
+        self.assertEqual(
+            [list(requests_of(house)), stand.lock_stack, stand.moves[2:]],
+            [[((), 'b'), (('a', 'b'), 'b'), (('b',), 'a'), (('b',), 'b')], ('b', 'a'),
+             (('enter',), ('want', 'a'), ('take',), ('want', 'b'))])
+
+    def test_writers(self):
+        house = House.read("lock g\nlock l\nkind k l n\nbody h : +l k.n\nroutine a x:k\nwith take g\n"
+                           "do call h, write x n\nclose\ndone")
+        self.assertEqual(
+            [writer_sets(house, "k", "n"), is_gated(house, "k", "n", ["g"]), is_gated(house, "k", "n", ["l"])],
+            [(('g',), ('g', 'l')), True, False])
 
 
 if __name__ == "__main__":

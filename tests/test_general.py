@@ -7,16 +7,20 @@ from helpers import BASIC, TEXTS, WORDS
 from test_machine import state_of
 from handsroom.answers import Setting, first_wrong, is_answer, least_signature, used_marks
 from handsroom.bareness import find_bare
+from handsroom.carrying import carried, carried_early
+from handsroom.certificates import ring_gaps, ring_table
 from handsroom.changing import alone, keeping, leaving_out, naming
 from handsroom.cycles import least_cycle, least_cycle_within, total_length
 from handsroom.ends import endings
 from handsroom.heap import Heap
 from handsroom.houses import House
+from handsroom.interleaving import clash_of, comes_before, weave
 from handsroom.joining import first_clash, joined_run
 from handsroom.judging import HeldTable
 from handsroom.kinds import Hall
-from handsroom.lonetable import LoneTable, is_closed, lone_path, missing_nodes
+from handsroom.lonetable import START, LoneTable, is_closed, lone_path, missing_nodes
 from handsroom.loneruns import Run, play
+from handsroom.lots import least_lots, mends, unnamed_places
 from handsroom.machine import Machine
 from handsroom.marks import lost
 from handsroom.orders import shortest_lock_cycle
@@ -24,15 +28,20 @@ from handsroom.products import Product
 from handsroom.records import records
 from handsroom.replay import length_of, replay
 from handsroom.requests import Requests
+from handsroom.rings import find_ring
 from handsroom.routines import Routine, choices_of, row_path
 from handsroom.runs import marked_records, stale_run
 from handsroom.shown import weaving_along
 from handsroom.signatures import Signature
 from handsroom.spreading import Spread
+from handsroom.stands import Stand
 from handsroom.standard import moves_along, standard_moves
 from handsroom.tables import RoomTable
 from handsroom.twohands import find_opening, find_stale_woven, open_places
 from handsroom.weavings import leave_out
+from handsroom.writers import is_gated
+
+SIMPLE = House.read("lock a\nkind k - n\nroutine r x:k\nwith take a\ndo read x n\nclose\ndone")
 
 
 def plain(value):
@@ -123,20 +132,46 @@ class GeneralTest(unittest.TestCase):
             (lambda told, pairs: shortest_lock_cycle(told, pairs), [locks, [("a", "b"), ("b", "a")]]),
         ]
 
+    def last_calls(self):
+        """The same for the modules of [65] and behind."""
+        house = House.read(WORDS)
+        table = LoneTable(Spread(house, "p"))
+        path = list(table.path_to((Spread(house, "p").first_point(9), ())))
+        stands = [Stand(house, "p", path[:2]), Stand(house, "q", [START])]
+        stations, chains = [list(one) for one in ring_table(house)]
+        firsts = [("box", [1]), ("free", (2,)), ("box", [3])]
+        turns = [(0, ("start", "q", [0, 1])), (1, ("start", "q", [2, 1])), (0, ("go", None, 1))]
+        lot = [("q", 2, 0), ("p", 0, 0)]
+        lot = [place for place in lot if place in unnamed_places(house)]
+        return [
+            (lambda nodes, stack: Stand(house, "p", nodes, stack=stack, wanted="n"), [path, ["m"]]),
+            (comes_before, [stands]),
+            (lambda told: clash_of(house, told), [stands]),
+            (lambda told: weave(SIMPLE, told), [[Stand(SIMPLE, "r", [START]), Stand(SIMPLE, "r", [START])]]),
+            (lambda one, two: list(ring_gaps(house, one, two)), [stations[3:], chains[1:]]),
+            (lambda held: is_gated(house, "box", "size", held), [["n", "m"]]),
+            (lambda places: mends(house, places), [lot]),
+            (lambda places, told, woven: carried(house, places, told, woven), [lot, firsts, turns]),
+            (lambda told, woven: carried_early(house, "q", 9, "h", told, woven), [firsts, turns]),
+        ]
+
+    def all_calls(self):
+        return self.calls() + self.later_calls() + self.last_calls()
+
     def test_lists_and_tuples_do_the_same(self):
-        for call, told in self.calls() + self.later_calls():
+        for call, told in self.all_calls():
             first = plain(call(*told))
             self.assertEqual(first, plain(call(*[tuple(one) for one in told])))
             self.assertEqual(first, plain(call(*told)))
 
     def test_nothing_that_is_passed_is_modified(self):
-        for call, told in self.calls() + self.later_calls():
+        for call, told in self.all_calls():
             before = plain(copy.deepcopy(told))
             call(*told)
             self.assertEqual(plain(told), before)
 
     def test_results_of_several_parts_are_tuples(self):
-        for call, told in self.calls() + self.later_calls():
+        for call, told in self.all_calls():
             found = call(*told)
             for part in vars(found).values() if hasattr(found, "__dict__") else [found]:
                 self.assertTrue(tuples_only(part) or isinstance(found, list), (told, part))
@@ -149,6 +184,8 @@ class GeneralTest(unittest.TestCase):
         self.assertEqual(plain(find_bare(House.read(BASIC))), plain(find_bare(House.read(BASIC))))
         for ask in (open_places, find_stale_woven, lambda house: find_opening(house, "r", 3)):
             self.assertEqual(plain(ask(House.read(BASIC))), plain(ask(House.read(BASIC))))
+        for ask in (least_lots, ring_table, lambda house: plain(find_ring(house))):
+            self.assertEqual(ask(SIMPLE), ask(House.read(SIMPLE.text())))
         one, two = [Product(House.read(WORDS), "q", "q", "free", "size") for _ in range(2)]
         self.assertEqual((one.states, one.open_states()), (two.states, two.open_states()))
 

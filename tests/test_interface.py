@@ -51,6 +51,17 @@ FUNCTIONS = {
     "twohands": {
         "open_points": "house name", "open_places": "house", "find_opening": "house name point",
         "find_stale_woven": "house", "spared_for_all": "house", "kept_for_all": "house"},
+    "needs": {"requests_at": "spread node", "requests_of": "house", "stand_for": "house request"},
+    "holds": {"final_takings": "stand", "taken_since": "stand"},
+    "interleaving": {"comes_before": "stands", "clash_of": "house stands", "weave": "house stands"},
+    "certificates": {"ring_table": "house", "ring_gaps": "house stations chains"},
+    "rings": {"least_ring": "requests", "find_ring": "house"},
+    "writers": {"writer_sets": "house kind field", "is_gated": "house kind field held"},
+    "lots": {
+        "unnamed_places": "house", "cover": "house place", "mends": "house lot *bare=True *stale=True",
+        "least_lots": "house *bare=True *stale=True"},
+    "carrying": {
+        "carried": "house lot firsts weaving", "carried_early": "house name row guard firsts weaving"},
 }
 CLASSES = {
     "kinds": {"Hall": ("locks **descriptions", "__eq__ guard_of fields_of text")},
@@ -82,6 +93,9 @@ CLASSES = {
     "products": {"Product": ("house keeper other kind field", (
         "MOST_STATES __iter__ __len__ __contains__ steps_at distance_to way_to is_open open_states"))},
     "twohands": {"Opening": (None, "")},
+    "stands": {"Stand": ("house routine nodes *stack=None *wanted=None", "__init__")},
+    "rings": {"RingFinding": (None, "")},
+    "others": {"OthersTable": ("spread", "__init__ open_sorts")},
 }
 VALUES = {"words": ["RESERVED", "RULES"], "lonetable": ["START"]}
 
@@ -151,9 +165,10 @@ class InterfaceTest(unittest.TestCase):
         self.assertEqual((Product.MOST_STATES, HeldTable.MOST_SPOTS), (4000, 600))
 
     def test_generators(self):
+        from handsroom.certificates import ring_gaps
         from handsroom.cycles import request_cycles
         from handsroom.runs import marked_records
-        for function in (request_cycles, marked_records):
+        for function in (request_cycles, marked_records, ring_gaps):
             self.assertTrue(inspect.isgeneratorfunction(function))
 
     def test_values(self):

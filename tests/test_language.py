@@ -420,7 +420,7 @@ class StatementTest(unittest.TestCase):
     def test_one_use_of_a_generator(self):
         generators = [function.name for _, _, function in functions()
                       if any(isinstance(node, (ast.Yield, ast.YieldFrom)) for node in ast.walk(function))]
-        self.assertEqual(sorted(generators), ["each_deed", "marked_records", "records", "request_cycles"])
+        self.assertEqual(sorted(generators), ["each_deed", "marked_records", "records", "request_cycles", "ring_gaps"])
         for name, tree in trees().items():
             for node in ast.walk(tree):
                 for child in ast.iter_child_nodes(node):
