@@ -24,8 +24,8 @@ THREE = House.read(HEAD + "\n".join([
     "routine r", "with take a", "do take b", "do take c as g", "close", "done",
     "routine s", "with take b", "with take c", "do take a", "close", "close", "done",
     "routine t", "with take c", "do take a", "do take b as g", "close", "done"]))
-CROSSED = House.read(HEAD + "routine r\nwith take a\ndo take b\ndo skip\nclose\ndone\n"
-                     "routine s\nwith take b\ndo take a\ndo skip\nclose\ndone")
+CROSSED = House.read(HEAD + "routine r\nwith take a\ndo take b\ndo take c\nclose\ndone\n"
+                     "routine s\nwith take b\ndo take a\ndo take c\nclose\ndone")
 UNNESTED = House.read(HEAD + "routine r\ndone\nroutine s\ndo take a as g\ndo take b as h\ndrop g\ndone\n"
                       "routine t\ndo take b as g\ndo take a as h\ndrop g\ndone")
 
