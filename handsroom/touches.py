@@ -4,6 +4,11 @@ from handsroom.lonetable import locks_of
 from handsroom.records import routine_in
 
 
+def handled_name(step):
+    """The name of whose object a read, keep or write is, None for any other step."""
+    return step[1] if step[0] in ("read", "keep", "write") else None
+
+
 def touched(spread, step):
     """The names whose objects a step touches, in the order of the step."""
     if step[0] in ("read", "write"):

@@ -140,12 +140,21 @@ def open_points(house, name):
     return tuple(_open_among(spread, _points_of(spread, _DEMANDS)))
 
 
-def open_places(house):
-    """The places of all demands that are open in some weaving, in order."""
+def _open_places(house, words):
     found = []
     for spread in _spreads_of(house):
-        found.extend([_place_of(spread, at) for at in _open_among(spread, _points_of(spread, _DEMANDS))])
+        found.extend([_place_of(spread, at) for at in _open_among(spread, _points_of(spread, words))])
     return tuple(found)
+
+
+def open_places(house):
+    """The places of all demands that are open in some weaving, in order."""
+    return _open_places(house, _DEMANDS)
+
+
+def open_keeps(house):
+    """The places of all keeps that are open in some weaving, in order."""
+    return _open_places(house, ("keep",))
 
 
 def _lone_weaving(candidate):

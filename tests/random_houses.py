@@ -31,6 +31,7 @@ WORDS = ("take", "take", "call", "call", "skip", "make", "copy", "fetch", "read"
 BUSY_WORDS = ("take", "call", "call", "make", "copy", "fetch", "read", "read", "keep", "keep", "write", "write", "write",
               "put")
 SHARE_WORDS = ("make", "make", "put", "put", "fetch", "fetch", "copy", "call", "read", "keep", "write", "take")
+TAIL_WORDS = ("take", "take", "make", "make", "skip", "skip", "copy", "put", "read", "write", "keep", "call")
 GUARD_WORDS = ("take", "take", "take", "take", "call", "call", "skip")
 
 
@@ -114,7 +115,7 @@ class Writer:
         return found
 
 
-def random_house(seed, *, rows=6, names=3, routines=1, words=WORDS):
+def random_house(seed, *, rows=6, names=3, routines=1, words=WORDS, named=0.5):
     """A random house; rows is about how many rows a routine has, words those of its deeds."""
     rng = random.Random(seed)
     while True:
@@ -126,7 +127,7 @@ def random_house(seed, *, rows=6, names=3, routines=1, words=WORDS):
         written = []
         for name in ["r", "s", "t"][:routines]:
             pairs = [(x, rng.choice(hall.kinds)) for x in ["x", "y", "z", "w"][:rng.randint(0, names)]]
-            writer = Writer(rng, hall, bodies, pairs, rows, words)
+            writer = Writer(rng, hall, bodies, pairs, rows, words, named)
             try:
                 written.append(Routine(name, pairs, writer.rows(0)))
             except HandsError:
@@ -135,7 +136,7 @@ def random_house(seed, *, rows=6, names=3, routines=1, words=WORDS):
             return House(hall, bodies, written)
 
 
-def busy_house(seed, *, rows=4, names=2, routines=2, words=BUSY_WORDS):
+def busy_house(seed, *, rows=4, names=2, routines=2, words=BUSY_WORDS, named=0.5):
     """A random house of few sorts in which many hands read, keep and write the same numbers."""
     rng = random.Random(seed)
     while True:
@@ -153,7 +154,7 @@ def busy_house(seed, *, rows=4, names=2, routines=2, words=BUSY_WORDS):
             pairs = [(x, rng.choice([hall.kinds[0], hall.kinds[0], hall.kinds[-1]]))
                      for x in ["x", "y", "z"][:rng.randint(1, names)]]
             try:
-                written.append(Routine(name, pairs, Writer(rng, hall, bodies, pairs, rows, words).rows(0)))
+                written.append(Routine(name, pairs, Writer(rng, hall, bodies, pairs, rows, words, named).rows(0)))
             except HandsError:
                 break
         if len(written) == routines:

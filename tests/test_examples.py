@@ -10,6 +10,7 @@ from handsroom.answers import Setting, first_wrong, own_stacks, parting
 from handsroom.bareness import find_bare, touch_statuses
 from handsroom.changing import naming
 from handsroom.guards import ended_at
+from handsroom.earning import earned
 from handsroom.errors import NoLockOrder
 from handsroom.houses import House
 from handsroom.judging import HeldTable, demand_statuses, find_stale
@@ -17,6 +18,7 @@ from handsroom.kinds import Hall
 from handsroom.loneruns import Run, play
 from handsroom.needs import requests_of, stand_for
 from handsroom.orders import lock_order
+from handsroom.report import report
 from handsroom.requests import Requests
 from handsroom.routines import blocks, next_rows, row_path, scopes
 from handsroom.signatures import Signature
@@ -24,7 +26,9 @@ from handsroom.spared import kept, spared
 from handsroom.spreading import Spread
 from handsroom.standard import standard_moves
 from handsroom.tables import RoomTable
+from handsroom.tails import free_rows
 from handsroom.twohands import find_stale_woven, spared_for_all
+from handsroom.verdicts import Verdict
 from handsroom.writers import is_gated, writer_sets
 
 
@@ -35,7 +39,7 @@ class ReadmeTest(unittest.TestCase):
     def test_the_blocks_print_what_they_say(self):
         with open(README, encoding="utf-8") as told:
             blocks_of_code = re.findall(r"```python\n(.*?)```", told.read(), re.S)
-        self.assertEqual(len(blocks_of_code), 2)
+        self.assertEqual(len(blocks_of_code), 3)
         for block in blocks_of_code:
             printed = io.StringIO()
             with contextlib.redirect_stdout(printed):
@@ -143,6 +147,24 @@ class ExampleTest(unittest.TestCase):
         self.assertEqual(
             [writer_sets(house, "k", "n"), is_gated(house, "k", "n", ["g"]), is_gated(house, "k", "n", ["l"])],
             [(('g',), ('g', 'l')), True, False])
+
+    def test_earning(self):
+        house = House.read("lock a\nkind box a size\nroutine r x:box y:box\ndo take a as g, read x size\ndo make y\n"
+                           "do write y size\ndone")
+        self.assertEqual([free_rows(house, "r", "g"), earned(house, "r", ["x"]).text()], [(1, 2), 'box : +a'])
+
+    def test_verdicts(self):
+        house = House.read("lock a\nkind box a size\nroutine r x:box\ndo take a\ndo read x size\ndone")
+        self.assertEqual(
+            [Verdict(house).is_right, Verdict(house).lines()],
+            [False, ('nests: yes', 'bare: hands 1, length 2, routine r, point 2', 'stale: no', 'ring: no', 'right: no')])
+
+    def test_report(self):
+        self.assertEqual(
+            report(House.read("lock a\nkind box a size\nroutine r x:box\ndo take a, read x size\ndone")),
+            'routine r\n  0 take a 0.0           -          -\n  1 read x size          a          open\n'
+            '  2 drop 0.0             a          -\n  3 stop                 -          -\nnests: yes\nbare: no\n'
+            'stale: no\nring: no\nright: yes')
 
 
 if __name__ == "__main__":

@@ -8,12 +8,15 @@ from test_machine import state_of
 from handsroom.answers import Setting, first_wrong, is_answer, least_signature, used_marks
 from handsroom.bareness import find_bare
 from handsroom.carrying import carried, carried_early
+from handsroom.cases import cases_of
 from handsroom.certificates import ring_gaps, ring_table
 from handsroom.changing import alone, keeping, leaving_out, naming
 from handsroom.cycles import least_cycle, least_cycle_within, total_length
+from handsroom.earning import earned
 from handsroom.ends import endings
 from handsroom.heap import Heap
 from handsroom.houses import House
+from handsroom.idle import idle_takes
 from handsroom.interleaving import clash_of, comes_before, weave
 from handsroom.joining import first_clash, joined_run
 from handsroom.judging import HeldTable
@@ -27,7 +30,9 @@ from handsroom.orders import shortest_lock_cycle
 from handsroom.products import Product
 from handsroom.records import records
 from handsroom.replay import length_of, replay
+from handsroom.report import report
 from handsroom.requests import Requests
+from handsroom.rewriting import replaceable, rewritten
 from handsroom.rings import find_ring
 from handsroom.routines import Routine, choices_of, row_path
 from handsroom.runs import marked_records, stale_run
@@ -37,7 +42,9 @@ from handsroom.spreading import Spread
 from handsroom.stands import Stand
 from handsroom.standard import moves_along, standard_moves
 from handsroom.tables import RoomTable
+from handsroom.tails import early_house
 from handsroom.twohands import find_opening, find_stale_woven, open_places
+from handsroom.verdicts import Verdict
 from handsroom.weavings import leave_out
 from handsroom.writers import is_gated
 
@@ -153,6 +160,8 @@ class GeneralTest(unittest.TestCase):
             (lambda places: mends(house, places), [lot]),
             (lambda places, told, woven: carried(house, places, told, woven), [lot, firsts, turns]),
             (lambda told, woven: carried_early(house, "q", 9, "h", told, woven), [firsts, turns]),
+            (lambda arguments: earned(SIMPLE, "r", arguments), [["x"]]),
+            (lambda arguments: cases_of(SIMPLE, "r", arguments), [["x"]]),
         ]
 
     def all_calls(self):
@@ -184,6 +193,9 @@ class GeneralTest(unittest.TestCase):
         self.assertEqual(plain(find_bare(House.read(BASIC))), plain(find_bare(House.read(BASIC))))
         for ask in (open_places, find_stale_woven, lambda house: find_opening(house, "r", 3)):
             self.assertEqual(plain(ask(House.read(BASIC))), plain(ask(House.read(BASIC))))
+        for ask in (Verdict, report, rewritten, early_house, idle_takes, replaceable):
+            for text in (BASIC, SIMPLE.text()):
+                self.assertEqual(plain(ask(House.read(text))), plain(ask(House.read(text))))
         for ask in (least_lots, ring_table, lambda house: plain(find_ring(house))):
             self.assertEqual(ask(SIMPLE), ask(House.read(SIMPLE.text())))
         one, two = [Product(House.read(WORDS), "q", "q", "free", "size") for _ in range(2)]

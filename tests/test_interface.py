@@ -62,6 +62,16 @@ FUNCTIONS = {
         "least_lots": "house *bare=True *stale=True"},
     "carrying": {
         "carried": "house lot firsts weaving", "carried_early": "house name row guard firsts weaving"},
+    "tails": {"free_rows": "house name guard", "early_house": "house"},
+    "idle": {"idle_takes": "house"},
+    "apartness": {"common_locks": "house other", "fall_apart": "house other"},
+    "missing": {"widest": "house body upto"},
+    "partinghouses": {"parting_houses": "first second"},
+    "earning": {"earned": "house name arguments"},
+    "cases": {"cases_of": "house name arguments"},
+    "verdicts": {"bare_places": "house", "stale_places": "house"},
+    "rewriting": {"replaceable": "house", "rewritten": "house"},
+    "report": {"report": "house"},
 }
 CLASSES = {
     "kinds": {"Hall": ("locks **descriptions", "__eq__ guard_of fields_of text")},
@@ -96,6 +106,9 @@ CLASSES = {
     "stands": {"Stand": ("house routine nodes *stack=None *wanted=None", "__init__")},
     "rings": {"RingFinding": (None, "")},
     "others": {"OthersTable": ("spread", "__init__ open_sorts")},
+    "verdicts": {
+        "Verdict": ("house", "__init__ lines"), "Fault": (None, "lines"), "Bare": (None, "lines"), "Stale": (None, "lines"),
+        "Ring": (None, "lines")},
 }
 VALUES = {"words": ["RESERVED", "RULES"], "lonetable": ["START"]}
 
@@ -163,6 +176,11 @@ class InterfaceTest(unittest.TestCase):
                             (Product.steps_at, "self state"), (Marked.knows, "self name field")]:
             self.assertEqual(arguments(owner), told)
         self.assertEqual((Product.MOST_STATES, HeldTable.MOST_SPOTS), (4000, 600))
+
+    def test_kinds_of_faults(self):
+        from handsroom.verdicts import Bare, Fault, Ring, Stale
+        for kind in (Bare, Stale, Ring):
+            self.assertEqual(kind.__bases__, (Fault,))
 
     def test_generators(self):
         from handsroom.certificates import ring_gaps

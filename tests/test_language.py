@@ -292,10 +292,12 @@ class ClassTest(unittest.TestCase):
                 self.assertFalse(isinstance(node, ast.arg) and node.annotation, name)
 
     def test_no_name_is_a_method_and_an_attribute(self):
-        # The document wants no such pair of names, so none is needed in the whole package.
-        methods = {function.name for _, function in self.methods()}
+        # The document wants one such pair of names, the ring of a machine and that of a verdict, in classes apart.
+        methods = {function.name: (owner, function) for owner, function in self.methods()}
+        pairs = [(methods[attribute][0], owner, attribute) for owner, attribute in self.attributes() if attribute in methods]
+        self.assertEqual(pairs, [("Machine", "Verdict", "ring")])
+        self.assertEqual(methods["ring"][1].decorator_list, [])
         for owner, attribute in self.attributes():
-            self.assertNotIn(attribute, methods, owner)
             self.assertNotIn(attribute, ATTRIBUTES, owner)
             self.assertFalse(hasattr(str, attribute) or hasattr(dict, attribute) or hasattr(int, attribute), attribute)
 
@@ -413,6 +415,8 @@ class StatementTest(unittest.TestCase):
                 for one in node.args[stars[0]:]:
                     value = one.value if isinstance(one, ast.Starred) else one
                     self.assertIsInstance(value, plain, (name, node.lineno))
+                    if isinstance(value, ast.Attribute):
+                        self.assertIsInstance(value.value, ast.Name, (name, node.lineno))
                 for keyword in node.keywords:
                     self.assertIsInstance(keyword.value, plain, (name, node.lineno))
                 self.assertNotEqual(getattr(node.func, "attr", ""), "__init__")
