@@ -38,6 +38,7 @@ def _writes_for(house, other):
 
 def fall_apart(house, other):
     """True if the houses fall apart."""
-    if len(common_locks(house, other)) > 1:
-        return False
-    return not _writes_for(house, other) and not _writes_for(other, house)
+    locks = common_locks(house, other)
+    # Both are asked, so that a table that is too large is always told.
+    writing = [_writes_for(house, other), _writes_for(other, house)]
+    return len(locks) <= 1 and not any(writing)

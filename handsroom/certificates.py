@@ -3,6 +3,7 @@
 from handsroom.chains import chains_of, closes, joined_chain
 from handsroom.lonetable import START, LoneTable, next_nodes
 from handsroom.needs import requests_at, requests_of
+from handsroom.requests import proper_requests
 from handsroom.spreading import Spread
 
 
@@ -50,8 +51,7 @@ def _gaps(house, stations, chains):
     proper = []
     for name, node in stations:
         gaps.extend(_station_gaps(spreads[name], node, known, chains))
-        requests = [request for _, request in requests_at(spreads[name], node)]
-        proper.extend([(held, wanted) for held, wanted in requests if len(held) > 0 and wanted not in held])
+        proper.extend(proper_requests([request for _, request in requests_at(spreads[name], node)]))
     for chain in chains:
         gaps.extend(_chain_gaps(house, chain, proper, chains))
     return gaps

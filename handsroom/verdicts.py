@@ -128,9 +128,9 @@ class Verdict:
 
 def judged_right(house):
     """True if the house is right; no weaving is made that shows a fault."""
-    if not house_nests(house) or len(least_ring(requests_of(house))) > 0:
+    if find_bare(house) is not None or not house_nests(house):
         return False
-    return find_bare(house) is None and find_stale_woven(house) is None
+    return len(least_ring(requests_of(house))) == 0 and find_stale_woven(house) is None
 
 
 def _bare_places_in(house, name):

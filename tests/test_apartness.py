@@ -81,6 +81,10 @@ class ApartTest(unittest.TestCase):
     def test_tables_that_are_too_large(self):
         house = House.read(LARGE_HOUSE)
         self.assertEqual(error_of(fall_apart, house, house), ("TooLarge", "spots"))
+        # Also where something else tells already that they do not fall apart.
+        other = House.read("lock a\nkind k - n\nroutine s x:k\ndo write x n\ndone")
+        for one, two in ((house, other), (other, house)):
+            self.assertEqual(error_of(fall_apart, one, two), ("TooLarge", "spots"))
         self.assertEqual(common_locks(house, house), ())
 
     def pairs(self):

@@ -149,6 +149,18 @@ class WeaveTest(WeaveCheck, unittest.TestCase):
         # r takes b for a while, ahead of s.
         self.assertEqual([hand for hand, move in turns], [0, 1, 1, 1, 1, 0])
 
+    def test_parts_of_one_hand_with_another_one_between(self):
+        """r takes b for a while once it holds a, and s takes c for a while once it holds b: a, b, c in this order."""
+        house = House.read(HEAD + "routine r\nwith take a\ndo take b\nwith take c\ndo skip\nclose\nclose\ndone\n"
+                           "routine s\nwith take b\ndo take c\ndo skip\nclose\ndone")
+        stands = [stand_at(house, "r", 3), stand_at(house, "s", 2)]
+        self.assertEqual([stand.lock_stack for stand in stands], [("a", "c"), ("b",)])
+        for told in (stands, stands[::-1]):
+            turns = weave(house, told)
+            self.check_weaving(house, told, turns)
+            holders = [hand for hand, move in turns if move[0] == "go"]
+            self.assertEqual(holders[0], holders[-1])
+
     def test_against_all_ways_to_take_turns(self):
         rng, counts = random.Random(67), {}
         houses = [lock_house(seed, rows=3) for seed in range(60)] + [nested_house(seed, locks=4) for seed in range(160)]

@@ -4,23 +4,35 @@ import random
 import unittest
 
 from floor_oracle import Floor, Mover, random_firsts
+from helpers import error_of
 from random_houses import GUARD_WORDS, SHARE_WORDS, busy_house, random_house
+from handsroom.changing import naming
 from handsroom.deeds import guard_name, named
+from handsroom.earning import earned
 from handsroom.ends import life
-from handsroom.errors import TooLarge
+from handsroom.errors import NotFit, TooLarge
 from handsroom.guards import makers
 from handsroom.houses import House
+from handsroom.idle import idle_takes
 from handsroom.judging import HeldTable, demand_statuses
 from handsroom.kinds import Hall
 from handsroom.lonetable import LoneTable
+from handsroom.lots import least_lots, unnamed_places
 from handsroom.machine import Machine
-from handsroom.nesting import crossings
+from handsroom.needs import requests_of
+from handsroom.nesting import crossings, house_nests
+from handsroom.others import OthersTable
 from handsroom.products import Product
+from handsroom.rewriting import replaceable, rewritten
+from handsroom.rings import find_ring
 from handsroom.routines import Routine
 from handsroom.rows import Row
 from handsroom.signatures import Signature
 from handsroom.spreading import Spread
+from handsroom.tails import early_house
 from handsroom.twohands import find_opening
+from handsroom.verdicts import Verdict, bare_places, stale_places
+from handsroom.writers import writer_sets
 
 OBJECTS = {"x": "a", "y": "box", "z": "p", "w": "r"}
 FIELDS = {"f": "box", "g": "a"}
@@ -147,6 +159,68 @@ class RenamedTest(unittest.TestCase):
                     self.assertEqual((one.leads_to(name), one.sheet_of(name)),
                                      (two.leads_to(OBJECTS[name]), two.sheet_of(OBJECTS[name])))
         self.assertGreater(made, 2000)
+
+    def test_rings_writers_and_lots(self):
+        counts = [0, 0]
+        for house, other in self.houses():
+            self.assertEqual(list(requests_of(house)), list(requests_of(other)))
+            if house_nests(house):
+                found = [find_ring(given) for given in (house, other)]
+                self.assertEqual(*[one and (one.requests, one.total, one.turns) for one in found])
+                counts[0] += found[0] is not None
+            try:
+                tables = [[demand_statuses(OthersTable(Spread(given, routine.name))) for routine in given.routines]
+                          for given in (house, other)]
+                self.assertEqual(*tables)
+                for kind, field in house.sorts:
+                    self.assertEqual(writer_sets(house, kind, field), writer_sets(other, kind, FIELDS[field]))
+                self.assertEqual(unnamed_places(house), unnamed_places(other))
+                if len(unnamed_places(house)) < 4:
+                    self.assertEqual(least_lots(house), least_lots(other))
+                    counts[1] += least_lots(house) != ()
+            except TooLarge:
+                continue
+        self.assertGreater(min(counts), 10)
+
+    def test_verdicts_and_rewritten_houses(self):
+        counts = {}
+        for house, other in self.houses():
+            try:
+                verdicts = [Verdict(given) for given in (house, other)]
+                self.assertEqual(*[one.lines() for one in verdicts])
+                self.assertEqual(*[(bare_places(given), stale_places(given), idle_takes(given)) for given in (house, other)])
+                self.assertEqual(renamed(early_house(house)).text(), early_house(other).text())
+                self.assertEqual(renamed(rewritten(house)).text(), rewritten(other).text())
+                self.assertEqual(replaceable(house), replaceable(other))
+            except TooLarge:
+                continue
+            counts[verdicts[0].is_right] = counts.get(verdicts[0].is_right, 0) + 1
+        self.assertGreater(min(counts.values()), 10)
+
+    def test_earned_signatures(self):
+        earning = 0
+        for house, other in self.houses():
+            for routine in house.routines:
+                names = [name for name, _ in routine.names][:3]
+                try:
+                    found = [earned(house, routine.name, names), earned(other, routine.name, [OBJECTS[name] for name in names])]
+                except (NotFit, TooLarge):
+                    continue
+                marks = [mark[:2] + (FIELDS[mark[2]],) if mark[0] == "writes" else mark for mark in found[0].marks]
+                self.assertEqual(tuple(marks), found[1].marks)
+                earning += 1
+        self.assertGreater(earning, 60)
+
+    def test_named_houses_whose_names_are_taken(self):
+        """Object names, guards and locks may be called as naming calls guards."""
+        text = ("lock n0\nlock n3\nkind n1 n0 n0\nbody n4 : +n0 =n0\nroutine n2 n0:n1 n2:n1\ndo take n3\n"
+                "do take n0 as n4, read n0 n0\nwith call n4\ndo take n3, keep n0 n0\nclose\ndone")
+        house = House.read(text)
+        named_house = naming(house, unnamed_places(house))
+        self.assertEqual([row.text() for row in named_house.routine_of("n2").rows][:4], [
+            "do take n3 as n1", "do take n0 as n4, read n0 n0", "with call n4 as n3", "do take n3 as n5, keep n0 n0"])
+        self.assertEqual(Verdict(house).lines()[0], "nests: yes")
+        self.assertEqual(error_of(least_lots, house), None)
 
 
 if __name__ == "__main__":
