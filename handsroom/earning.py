@@ -6,20 +6,16 @@ from handsroom.signatures import Signature
 from handsroom.uses import uses_at
 
 
-def signature_from(table):
-    """The signature that the routine of a table of tags earns, if it is fit."""
-    routine = routine_in(table.spread)
+def earned(house, name, arguments):
+    """The signature that a routine earns with some of its names as arguments."""
+    table = fit_table(house, name, arguments)
     marks = {}
     for spot in table.spots:
         for mark, _ in uses_at(table, spot):
             marks[mark] = True
         for position in table.shared_positions(spot):
             marks[("shares", position)] = True
-    places = [routine.kind_of(name) for name in table.arguments]
+    routine = routine_in(table.spread)
+    places = [routine.kind_of(argument) for argument in table.arguments]
     found = list(marks)
-    return Signature(table.spread.house.hall, *places, marks=found)
-
-
-def earned(house, name, arguments):
-    """The signature that a routine earns with some of its names as arguments."""
-    return signature_from(fit_table(house, name, arguments))
+    return Signature(house.hall, *places, marks=found)

@@ -10,7 +10,6 @@ from handsroom.tables import RoomTable
 from handsroom.touches import handled_name
 
 _QUIET_WORDS = ("skip", "make", "copy", "put")
-_NAMING_WORDS = ("drop", "give")
 _DIVIDING_WORDS = ("or", "close")
 
 
@@ -43,7 +42,7 @@ def free_rows(house, name, guard):
     bearing = [maker for maker in makers(house, name) if maker.fate == "named" and maker.tag == guard]
     if len(bearing) == 0:
         raise NoTag(guard)
-    if any([row.word in _NAMING_WORDS and row.guard == guard for row in routine.rows]):
+    if any([row.guard == guard for row in routine.rows]):
         return ()
     spread = Spread(house, name)
     rooms, nodes = RoomTable(spread), LoneTable(spread)

@@ -6,7 +6,7 @@ import unittest
 from helpers import ODD_VALUES, TEXTS, THING, error_of
 from lone_oracle import Wanderer
 from random_houses import GUARD_WORDS, SHARE_WORDS, TAIL_WORDS, WORDS, busy_house, lock_house, nested_house, random_house
-from run_oracle import levels
+from run_oracle import levels, successors
 from test_nesting import crossed_at
 from handsroom.answers import Setting, first_wrong, least_signature, used_marks, wishes
 from handsroom.cases import cases_of
@@ -15,8 +15,10 @@ from handsroom.errors import HandsError, NoSuch, NotFit, TooLarge
 from handsroom.houses import House
 from handsroom.lonetable import LoneTable
 from handsroom.needs import requests_at
+from handsroom.records import first_record, record_after
 from handsroom.signatures import Signature
 from handsroom.spreading import Spread
+from handsroom.tagging import TagTable
 
 HEAD = "lock a\nlock b\nlock c\nkind box a f\nkind bag - n m\n"
 BODIES = ("body hit box : box.f", "body spill : bag.n", "body tidy : +a +b a>b box.f", "body share bag* bag : bag.m",
@@ -276,6 +278,8 @@ class EarnedTest(EarnCheck, unittest.TestCase):
         self.assertEqual(self.earned("do take a, read x f"), "box : +a")
         self.assertEqual(self.earned("with take b", "do take a as g, take c", "close"), "box : +a +b +c a>c b>a b>c")
         self.assertEqual(self.earned("do take b", "do take a", "do take b"), "box : +a +b")
+        # The second drop finds no guard.
+        self.assertEqual(self.earned("do take a as g", "drop g", "drop g", "do take b", "do write x f"), "box : +a +b box.f")
 
     def test_writes(self):
         self.assertEqual(self.earned("do write x f"), "box : box.f")
@@ -393,6 +397,39 @@ class RulesTest(EarnCheck, unittest.TestCase):
                             (lambda: earned(house, "r", ["x", "y", "u", "v"]), TooLarge)):
             with self.assertRaises(error):
                 call()
+
+    def test_the_spots_of_a_table(self):
+        """A node with a record and a tag for each name: also what is made and what is found differ."""
+        house = house_of("either", "do make x, put x", "or", "do fetch x, skip", "close", "do skip")
+        want = {"x": 2, "y": 2}
+        for name, many in want.items():
+            table = TagTable(Spread(house, "r"), [name])
+            self.assertEqual(len([spot for spot in table if spot.node[0] == 5]), many)
+        checked = 0
+        for seed in range(60):
+            house = busy_house(seed, rows=6, routines=1)
+            spread = Spread(house, "r")
+            names = [name for name, _ in house.routine_of("r").names]
+            try:
+                table = TagTable(spread, names[:1])
+            except TooLarge:
+                continue
+            first = (0,) + ("found",) * (len(names) - 1)
+            seen, pending = {}, [((0, ()), first_record(spread), first)]
+            while pending:
+                node, record, tags = pending.pop()
+                if (node, record.key(), tags) in seen:
+                    continue
+                seen[(node, record.key(), tags)] = True
+                step = spread.points[node[0]].step
+                after = dict(zip(names, tags))
+                if step[0] in ("make", "fetch", "copy"):
+                    after[step[1]] = {"make": "made", "fetch": "found"}.get(step[0]) or after[step[2]]
+                behind = record_after(spread, record, step)
+                pending += [(one, behind, tuple(after.values())) for one in successors(spread, node)]
+            self.assertEqual(len(table), len(seen))
+            checked += 1
+        self.assertGreater(checked, 50)
 
     def test_tables_that_are_too_large(self):
         """Tags make more spots than records alone."""

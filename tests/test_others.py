@@ -5,8 +5,10 @@ import unittest
 
 from helpers import LARGE_HOUSE, TEXTS, error_of
 from random_houses import busy_house, careless_house, random_house, random_path
+from test_verdicts import reading_first
 from woven_oracle import Woven
 from handsroom.bareness import is_settled
+from handsroom.changing import alone
 from handsroom.errors import BadPath, BadPoint, TooLarge
 from handsroom.houses import House
 from handsroom.judging import HeldTable, demand_statuses
@@ -16,7 +18,7 @@ from handsroom.nesting import house_nests
 from handsroom.others import OthersTable
 from handsroom.rings import find_ring
 from handsroom.spreading import Spread
-from handsroom.twohands import open_points
+from handsroom.twohands import open_places, open_points
 from handsroom.writers import is_gated
 
 HEAD = "lock a\nlock b\nkind box a f\nkind bag - f g\nbody lend : +a +b =a =b\n"
@@ -160,6 +162,25 @@ class WeavingsTest(unittest.TestCase):
             self.assertEqual(opened, self.unsure(house))
             checked += 0 < len(opened)
         self.assertGreater(checked, 80)
+
+    def test_smaller_houses_have_no_more_open_demands(self):
+        """Without some routines, and with narrower signatures."""
+        rng, less = random.Random(80), 0
+        for seed in range(150):
+            house = reading_first(busy_house(seed, rows=4, routines=2 + seed % 2))
+            opened = set(open_places(house))
+            names = [routine.name for routine in house.routines]
+            some = rng.sample(names, rng.randint(1, len(names)))
+            houses = [alone(house, some)]
+            for body, signature in house.bodies:
+                for mark in signature.marks:
+                    if not signature.is_giving or mark[0] not in ("takes", "gives"):
+                        houses.append(house.with_signature(body, signature - mark))
+            for smaller in houses:
+                self.assertLessEqual(set(open_places(smaller)), opened)
+                left = {place for place in opened if place[0] in [routine.name for routine in smaller.routines]}
+                less += set(open_places(smaller)) < left
+        self.assertGreater(less, 15)
 
     def test_a_house_that_is_not_settled(self):
         """Without the conditions the table can be unsure of a demand that is open in no weaving."""

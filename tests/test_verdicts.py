@@ -6,19 +6,25 @@ from helpers import LARGE_HOUSE, TEXTS, error_of
 from lock_oracle import Locks
 from lone_oracle import Wanderer
 from random_houses import BUSY_WORDS, GUARD_WORDS, busy_house, careless_house, lock_house, nested_house, random_house
+from test_nesting import crossed_at
 from test_products import OVER_BOUND, large_house
 from woven_oracle import Woven
+from handsroom.bareness import touch_statuses
+from handsroom.certificates import ring_gaps, ring_table
 from handsroom.errors import TooLarge
 from handsroom.houses import House
-from handsroom.lonetable import LoneTable
+from handsroom.judging import HeldTable
+from handsroom.lonetable import LoneTable, is_closed
 from handsroom.machine import Machine
 from handsroom.needs import requests_of
 from handsroom.nesting import first_breach, house_nests
+from handsroom.products import Product
 from handsroom.replay import length_of, replay
 from handsroom.rings import least_ring
 from handsroom.rows import Row
 from handsroom.spreading import Spread
 from handsroom.standard import standard_firsts
+from handsroom.tables import RoomTable
 from handsroom.twohands import open_places
 from handsroom.verdicts import Bare, Fault, Ring, Stale, Verdict, bare_places, judged_right, stale_places
 
@@ -257,6 +263,44 @@ class PlacesTest(unittest.TestCase):
                     self.assertEqual(list(found), sorted(found, key=lambda place: (names.index(place[0]),) + place[1:]))
             except TooLarge:
                 continue
+
+
+def shown_right(house):
+    """True if the finite tables of [95] show that a house is right; nothing is searched but their own rows."""
+    stations, chains = ring_table(house)
+    if list(ring_gaps(house, stations, chains)):
+        return False
+    spreads = [Spread(house, routine.name) for routine in house.routines]
+    for spread in spreads:
+        table = LoneTable(spread)
+        if not is_closed(spread, table.nodes) or any(crossed_at(spread, node) for node in table.nodes):
+            return False
+        if any(status in ("bare", "mixed") for status in touch_statuses(RoomTable(spread))):
+            return False
+        held = HeldTable(spread)
+        if any(spread.points[spot.node[0]].step[0] == "keep" and not held.is_known(spot) for spot in held):
+            return False
+    for spread in spreads:
+        for kind, field in house.sorts:
+            for other in spreads:
+                product = Product(house, spread.name, other.name, kind, field)
+                if not all(state in product for one in product for _, _, state in product.steps_at(one)):
+                    return False
+                if any(spread.points[state[0][0][0]].step[0] == "keep" for state in product.open_states()):
+                    return False
+    return True
+
+
+class TablesTest(unittest.TestCase):
+    def test_what_shows_that_a_house_is_right(self):
+        counts = {True: 0, False: 0}
+        houses = [CLEAN, RINGS, UNNESTED] + [careless_house(seed) for seed in range(120)]
+        houses += [nested_house(seed) for seed in range(40)] + [busy_house(seed) for seed in range(80)]
+        houses += [reading_first(careless_house(seed)) for seed in range(60)]
+        for house in houses:
+            self.assertIs(shown_right(house), Verdict(house).is_right)
+            counts[shown_right(house)] += 1
+        self.assertGreater(min(counts.values()), 40)
 
 
 class OracleTest(FaultCheck, unittest.TestCase):
