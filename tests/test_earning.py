@@ -15,6 +15,7 @@ from handsroom.errors import HandsError, NoSuch, NotFit, TooLarge
 from handsroom.houses import House
 from handsroom.lonetable import LoneTable
 from handsroom.needs import requests_at
+from handsroom.nesting import nests
 from handsroom.records import first_record, record_after
 from handsroom.signatures import Signature
 from handsroom.spreading import Spread
@@ -442,6 +443,11 @@ class RulesTest(EarnCheck, unittest.TestCase):
             self.assertEqual(error_of(earned, house, "r", arguments), ("TooLarge", "spots"))
             self.assertEqual(error_of(cases_of, house, "r", arguments), ("TooLarge", "spots"))
         self.assertEqual(error_of(earned, house, "r", ["x", "y", "z", "w"]), ("TooLarge", "places"))
+        # The bound comes ahead of the rules.
+        house = House.read("\n".join(["lock a", "lock b", "kind k - n", "routine r x:k y:k z:k w:k", "do take a as g"] + rows
+                                     + ["do take b as h", "drop g", "done"]))
+        self.assertFalse(nests(house, "r"))
+        self.assertEqual(error_of(earned, house, "r", ["x", "y", "z"]), ("TooLarge", "spots"))
 
 
 class OracleTest(EarnCheck, unittest.TestCase):

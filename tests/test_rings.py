@@ -271,6 +271,17 @@ class CertificateTest(unittest.TestCase):
                     words[gap[0]] = words.get(gap[0], 0) + 1
         self.assertGreater(min(words[word] for word in ("node", "self", "chain", "ring")), 50)
 
+    def test_lists_that_change_while_gaps_are_yielded(self):
+        stations, chains = [list(one) for one in ring_table(TWO)]
+        some, more = stations[2:], chains[:1]
+        want = list(ring_gaps(TWO, some, more))
+        gaps = ring_gaps(TWO, some, more)
+        found = [next(gaps)]
+        some.clear()
+        more.extend(chains)
+        self.assertEqual(found + list(gaps), want)
+        self.assertGreater(len(want), 2)
+
     def test_nodes_of_no_lone_path(self):
         gaps = list(ring_gaps(TWO, [("r", (0, ())), ("s", (0, ())), ("s", (1, ()))], []))
         self.assertEqual(gaps, [("node", "r", (1, ())), ("node", "s", (1, (("0.0", "b"),))),
