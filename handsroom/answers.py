@@ -2,7 +2,7 @@
 
 from handsroom.errors import BadMove, BadPart, Unlike
 from handsroom.plain import has_repeat, is_index, is_integer
-from handsroom.signatures import Signature
+from handsroom.signatures import Signature, fullest_signature
 from handsroom.words import is_name
 
 _MOST_PASSED = 3
@@ -138,7 +138,7 @@ def _marks_of_move(setting, stack, move):
 def used_marks(setting, moves, *, giving=False):
     """The marks that an allowed list uses, in order ([9])."""
     places = setting.places
-    fullest = Signature.fullest(setting.hall, *places, giving=giving)
+    fullest = fullest_signature(setting.hall, places, giving)
     position = first_wrong(fullest, setting, moves)
     if position is not None:
         raise BadMove(position)

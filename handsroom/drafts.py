@@ -8,9 +8,9 @@ none of these is ("",).
 from handsroom.deeds import guard_name, object_names
 from handsroom.errors import BadPart
 from handsroom.kinds import Hall, kind_rule, lock_rule
-from handsroom.rows import Row
+from handsroom.rows import read_row
 from handsroom.shapes import first_shape, heading_rule
-from handsroom.signatures import Signature, written_parts, written_rule
+from handsroom.signatures import read_signature, written_parts, written_rule
 from handsroom.words import first_rule, is_name
 
 _MOST_BODIES = 3
@@ -19,7 +19,7 @@ _MOST_ROUTINES = 4
 
 def _read_row(text):
     try:
-        return ("row", Row.read(text))
+        return ("row", read_row(text))
     except BadPart:
         return ("",)
 
@@ -163,7 +163,7 @@ class Draft:
             return Draft(self.locks, self.descriptions + (line[1],), (), (), (), None)
         bodies, routines, pairs, shape = self.bodies, self.routines, self.pairs, self.shape
         if line[0] == "body":
-            bodies = bodies + ((line[1], Signature.read(self._hall(), line[2])),)
+            bodies = bodies + ((line[1], read_signature(self._hall(), line[2])),)
         elif line[0] == "routine":
             routines, pairs = routines + (line[1],), tuple(line[2])
             shape = first_shape(tuple([name for name, _ in pairs]))

@@ -10,6 +10,22 @@ def _are_numbers(house, kind, numbers):
     return all([is_integer(number) for number in numbers])
 
 
+def begun_rows(house, firsts):
+    """A triple (kind, numbers, None) for each of the first objects, pairs (kind, numbers)."""
+    rows = []
+    for position, (kind, numbers) in enumerate(firsts):
+        if kind not in house.kinds:
+            raise NoSuch(kind)
+        if not _are_numbers(house, kind, numbers):
+            raise WrongFirst(position)
+        rows.append((kind, tuple(numbers), None))
+    found = [row[0] for row in rows]
+    for kind in house.kinds:
+        if kind not in found:
+            raise NoFirst(kind)
+    return tuple(rows)
+
+
 class Heap:
     """The objects at one moment; a heap never changes."""
 
@@ -20,18 +36,7 @@ class Heap:
     @classmethod
     def begun(cls, house, firsts):
         """The heap of first objects, pairs (kind, numbers)."""
-        rows = []
-        for position, (kind, numbers) in enumerate(firsts):
-            if kind not in house.kinds:
-                raise NoSuch(kind)
-            if not _are_numbers(house, kind, numbers):
-                raise WrongFirst(position)
-            rows.append((kind, tuple(numbers), None))
-        found = [row[0] for row in rows]
-        for kind in house.kinds:
-            if kind not in found:
-                raise NoFirst(kind)
-        return cls(house, tuple(rows))
+        return cls(house, begun_rows(house, firsts))
 
     @property
     def object_rows(self):

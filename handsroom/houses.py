@@ -4,7 +4,7 @@ from handsroom.drafts import first_fault, house_lines, read_line
 from handsroom.errors import BadLine, NoSuch, Unlike
 from handsroom.kinds import Hall
 from handsroom.routines import Routine
-from handsroom.signatures import Signature
+from handsroom.signatures import read_signature
 
 
 def _check(lines):
@@ -39,7 +39,7 @@ class House:
         self.locks = hall.locks
         self.kinds = hall.kinds
         self.sorts = hall.sorts
-        self.bodies = tuple([(name, Signature.read(hall, known.text())) for name, known in bodies])
+        self.bodies = tuple([(name, read_signature(hall, known.text())) for name, known in bodies])
         self.routines = tuple(routines)
 
     @staticmethod
@@ -48,7 +48,7 @@ class House:
         lines = [read_line(line) for line in text.split("\n")]
         _check(lines)
         hall = _hall_in(lines)
-        bodies = [(line[1], Signature.read(hall, line[2])) for line in lines if line[0] == "body"]
+        bodies = [(line[1], read_signature(hall, line[2])) for line in lines if line[0] == "body"]
         return House(hall, bodies, _routines_in(lines))
 
     def __eq__(self, other):

@@ -2,7 +2,7 @@
 
 from handsroom.errors import HandsError, MustWait, NoHand, NoSuch, Refused, WrongMove
 from handsroom.hands import started_hand
-from handsroom.heap import Heap
+from handsroom.heap import Heap, begun_rows
 from handsroom.moverules import is_start, move_rule, start_rule
 from handsroom.plain import is_index, is_integer
 from handsroom.spreading import Spread
@@ -14,7 +14,7 @@ class Machine:
 
     def __init__(self, house, firsts):
         self.house = house
-        self._heap = Heap.begun(house, firsts)
+        self._heap = Heap(house, begun_rows(house, firsts))
         self._firsts = tuple([row[:2] for row in self._heap.object_rows])
         self._hands = ()
         self._turns = ()

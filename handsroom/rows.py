@@ -33,13 +33,7 @@ class Row:
     @staticmethod
     def read(text):
         """The row with this text."""
-        word, _, rest = text.partition(" ")
-        if word in _DEED_WORDS:
-            deeds = [read_deed(part) for part in rest.split(", ")]
-            return Row(word, *deeds)
-        if word in _GUARD_WORDS:
-            return Row(word, guard=rest)
-        return Row(text)
+        return read_row(text)
 
     def __eq__(self, other):
         if not isinstance(other, Row):
@@ -53,3 +47,14 @@ class Row:
         if len(self.deeds) == 0:
             return self.word
         return self.word + " " + ", ".join([deed_text(deed) for deed in self.deeds])
+
+
+def read_row(text):
+    """The row with this text."""
+    word, _, rest = text.partition(" ")
+    if word in _DEED_WORDS:
+        deeds = [read_deed(part) for part in rest.split(", ")]
+        return Row(word, *deeds)
+    if word in _GUARD_WORDS:
+        return Row(word, guard=rest)
+    return Row(text)

@@ -128,22 +128,12 @@ class Signature:
     @staticmethod
     def fullest(hall, *places, giving=False):
         """The signature of these places that has all marks."""
-        rule = parts_rule(hall, places, ())
-        if rule:
-            raise BadPart(rule)
-        if giving and not hall.locks:
-            raise BadPart("needs")
-        marks = [mark for mark in all_marks(hall, places) if giving or mark[0] != "gives"]
-        return Signature(hall, *places, marks=marks)
+        return fullest_signature(hall, places, giving)
 
     @staticmethod
     def read(hall, text):
         """The signature that a text writes."""
-        rule = written_rule(hall, text)
-        if rule:
-            raise BadPart(rule)
-        places, marks = written_parts(text)
-        return Signature(hall, *places, marks=marks)
+        return read_signature(hall, text)
 
     def __eq__(self, other):
         if not isinstance(other, Signature):
@@ -196,3 +186,23 @@ class Signature:
         words = [place + "*" if at in self.shares else place for at, place in enumerate(self.places)]
         marks = [mark_word(mark) for mark in self.marks if mark[0] != "shares"]
         return " ".join(words + [":"] + marks)
+
+
+def fullest_signature(hall, places, giving):
+    """The signature of these places that has all marks, gives marks only if it is to be giving."""
+    rule = parts_rule(hall, places, ())
+    if rule:
+        raise BadPart(rule)
+    if giving and not hall.locks:
+        raise BadPart("needs")
+    marks = [mark for mark in all_marks(hall, places) if giving or mark[0] != "gives"]
+    return Signature(hall, *places, marks=marks)
+
+
+def read_signature(hall, text):
+    """The signature that a text writes."""
+    rule = written_rule(hall, text)
+    if rule:
+        raise BadPart(rule)
+    places, marks = written_parts(text)
+    return Signature(hall, *places, marks=marks)

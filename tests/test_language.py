@@ -301,6 +301,13 @@ class ClassTest(unittest.TestCase):
             self.assertNotIn(attribute, ATTRIBUTES, owner)
             self.assertFalse(hasattr(str, attribute) or hasattr(dict, attribute) or hasattr(int, attribute), attribute)
 
+    def test_no_method_is_read_off_a_class(self):
+        """L18 asks for this where a name is a method and an attribute; so it is kept to everywhere."""
+        own = list(classes())
+        for name, node in nodes(ast.Attribute):
+            if isinstance(node.value, ast.Name):
+                self.assertNotIn(node.value.id, own, (name, node.lineno))
+
     def test_attributes_that_are_read_are_assigned(self):
         assigned = {attribute for _, attribute in self.attributes()}
         methods = {function.name for _, function in self.methods()}
